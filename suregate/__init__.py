@@ -1,0 +1,1 @@
+"""Suregate: clocked circuits that are changed, compared and timed, each answer with a certificate."""

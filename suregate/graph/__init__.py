@@ -1,0 +1,1 @@
+"""Circuits, nets, builders and joint nets."""

@@ -1,0 +1,1 @@
+"""Runs of circuits, one at a time or many at once."""

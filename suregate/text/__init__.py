@@ -1,0 +1,1 @@
+"""Circuits and what belongs to them, written as text and read back."""
