@@ -1,0 +1,1 @@
+"""Clauses: unit propagation, and the search that learns."""

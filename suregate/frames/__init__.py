@@ -1,0 +1,1 @@
+"""The clauses of the cycles of a net."""

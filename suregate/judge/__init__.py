@@ -1,0 +1,1 @@
+"""Certificates, and the functions that check them."""

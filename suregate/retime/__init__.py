@@ -1,0 +1,1 @@
+"""Retiming: latches that move over ands."""

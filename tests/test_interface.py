@@ -1,0 +1,79 @@
+"""The interface: its names, their arguments, and the files in which they are defined."""
+
+import importlib
+import inspect
+import unittest
+
+# For each file: its functions, and its classes with their arguments, methods and properties.
+INTERFACE = {
+    "graph.net": {"Net": ("input_count latches ands", {}, "first_latch first_and node_count")},
+    "graph.circuit": {
+        "is_name": "text",
+        "Circuit": ("inputs latches ands outputs", {"as_net": "", "__eq__": "other"}, "")},
+    "graph.builder": {
+        "Builder": ("leaf_count", {
+            "pair_of": "literal", "level_of": "literal", "both": "left right", "either": "left right",
+            "unlike": "left right", "choose": "test yes no"}, ""),
+        "image_of": "images literal", "leaf_images": "circuit", "rebuilt": "circuit builder images"},
+    "graph.joining": {"Joined": ("left right", {"from_left": "literal", "from_right": "literal"}, "")},
+    "runs.plain": {
+        "value_of": "values literal", "node_values": "net state row", "start_state": "circuit",
+        "step": "circuit state row", "cycles": "circuit course", "run": "circuit course",
+        "state_after": "circuit course"},
+    "runs.packed": {
+        "word_of": "words literal mask", "packed_values": "net state_words row_words mask",
+        "mask_of": "case_count", "row_of": "count number", "all_rows": "count", "packed_run": "circuit courses"},
+    "text.circuits": {"write_circuit": "circuit", "read_circuit": "text"},
+    "text.certificates": {"write_certificate": "certificate", "read_certificate": "text"},
+    "text.flows": {"write_chain": "circuits certificates", "read_chain": "text", "fault_of_text": "text"},
+    "clauses.units": {
+        "Units": ("clauses", {"add_clause": "clause", "spread": "literals", "follows": "line"}, ""),
+        "first_unfounded": "clauses lines"},
+    "clauses.search": {
+        "Search": ("count clauses", {"add_clause": "clause", "model_under": "assumed"}, ""),
+        "decide": "count clauses assumed"},
+    "frames.frames": {
+        "in_frame": "net clause frame", "frame_clauses": "net frame", "start_clauses": "net",
+        "link_clauses": "net frame", "same_clauses": "x y", "opening_clauses": "net last"},
+    "judge.certificate": {
+        "AlikeCertificate": ("facts start_lines lines next_lines", {"__eq__": "other"}, "")},
+    "judge.alike": {
+        "fault_of_alike": "left right certificate", "fault_of_chain": "circuits certificates"},
+    "retime.weights": {
+        "pin_weights": "circuit", "check_labels": "circuit labels", "depth_under": "circuit labels"},
+}
+
+
+def arguments_of(function):
+    return list(inspect.signature(function).parameters)
+
+
+class InterfaceTest(unittest.TestCase):
+    def test_functions(self):
+        for file, names in INTERFACE.items():
+            module = importlib.import_module("suregate." + file)
+            for name, told in names.items():
+                value = vars(module)[name]
+                self.assertEqual("suregate." + file, value.__module__, name)
+                if isinstance(told, str):
+                    self.assertTrue(inspect.isfunction(value), name)
+                    self.assertEqual(told.split(), arguments_of(value), name)
+
+    def test_classes(self):
+        for file, names in INTERFACE.items():
+            module = importlib.import_module("suregate." + file)
+            for name, told in names.items():
+                if isinstance(told, tuple):
+                    self.check_class(vars(module)[name], *told)
+
+    def check_class(self, value, arguments, methods, properties):
+        self.assertTrue(inspect.isclass(value), value)
+        self.assertEqual(arguments.split(), arguments_of(value), value)
+        for method, expected in methods.items():
+            self.assertEqual(["self", *expected.split()], arguments_of(vars(value)[method]), (value, method))
+        for name in properties.split():
+            self.assertIsInstance(vars(value)[name], property)
+
+
+if __name__ == "__main__":
+    unittest.main()
