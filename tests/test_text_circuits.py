@@ -79,7 +79,8 @@ class LinesTest(TextTest):
         self.invalid_text(3, "circuit\ninput a\nand 1\nlatch\n")
 
     def test_title(self):
-        for title in ("", " ", "circuit ", " circuit", "circuit circuit", "circuits", "flow", "certificate", "\tcircuit"):
+        for title in (
+                "", " ", "circuit ", " circuit", "circuit circuit", "circuits", "flow", "certificate", "\tcircuit"):
             self.invalid_text(1, title + "\n" + TEXT[8:])
 
     def test_the_title_stands_once(self):

@@ -107,7 +107,7 @@ class Search:
             self._trail.drop([clause for _, clause in ranked[half:]])
 
     def _learn_from(self, clause):
-        """Learns a line from a clause all of whose literals are false, and takes back levels until it makes one true."""
+        """Learns a line from a clause whose literals are all false, and takes back levels until the line says more."""
         levels = self._trail.levels
         result, others = self._resolve(clause)
         others = sorted(others, key=lambda literal: -levels[literal // 2])
@@ -123,7 +123,7 @@ class Search:
         self._trail.put(result, reason)
 
     def _resolve(self, clause):
-        """Returns the literals of a line that follows, all of them false: the only one of the last level, and the others.
+        """Returns the false literals of a line that follows: the only one of the last level, and the others.
 
         The false literals of the last level are replaced by those that made them false, the latest one first,
         until one of them is left.
