@@ -1,6 +1,7 @@
 """The rules of ../shared/LANGUAGE.md that can be seen from one file by itself, or from the list of the files."""
 
 import ast
+import builtins
 import pathlib
 import unittest
 
@@ -33,6 +34,10 @@ UNUSED_NAMES = set("""
     register mro elements open input law version_info with_traceback add_note attrgetter breakpoint builtins compile
     copyright credits delattr dir eval exec exit gc globals help id importlib license locals methodcaller os quit sys
     type vars hash round print chr bytearray memoryview callable
+""".split())
+BARRED_WORDS = set("""
+    type typing typing_extensions enum Enum IntEnum StrEnum Flag IntFlag Generic Protocol ABC ABCMeta namedtuple
+    NamedTuple TypedDict TYPE_CHECKING abstractmethod
 """.split())
 FORBIDDEN_WORDS = ("dataclass", "overload", "contextmanager", "_wall")
 STATEMENTS = (
@@ -172,6 +177,15 @@ class LanguageTest(unittest.TestCase):
                 if isinstance(operator, (ast.Is, ast.IsNot)):
                     self.demand(isinstance(right, ast.Constant), "L20", place)
 
+    def test_words_in_strings(self):
+        for path, tree in self.trees.items():
+            owners = nodes_of(tree, ast.Module, ast.ClassDef, ast.FunctionDef)
+            docstrings = [owner.body[0].value for owner in owners if isinstance(owner.body[0], ast.Expr)]
+            for node in nodes_of(tree, ast.Constant):
+                if isinstance(node.value, str) and node not in docstrings:
+                    words = set("".join(c if c.isalnum() or c == "_" else " " for c in node.value).split())
+                    self.demand(not words & (BARRED_WORDS - {"type"}), "L17", f"{path}:{node.lineno}")
+
     def test_calls(self):
         for place, node in self.each(ast.Call):
             if isinstance(node.func, ast.Attribute):
@@ -189,7 +203,8 @@ class LanguageTest(unittest.TestCase):
                 alias.name for node in nodes_of(tree, ast.ImportFrom) for alias in node.names} | {
                 node.name for node in nodes_of(tree, ast.ExceptHandler) if node.name}
             for name in sorted(own):
-                self.demand(name not in BUILTINS | UNUSED_NAMES or name == "map", "L8, L15, L17", f"{path}: {name}")
+                taken = BUILTINS | UNUSED_NAMES | BARRED_WORDS | set(dir(builtins))
+                self.demand(name not in taken or name.startswith("__"), "L8, L15, L17", f"{path}: {name}")
                 allowed = name in DOUBLE_UNDERSCORE if name.startswith("__") else not name.endswith("__")
                 self.demand(allowed, "L5, L8", f"{path}: {name}")
             used = {node.id for node in nodes_of(tree, ast.Name) if isinstance(node.ctx, ast.Load)}

@@ -63,7 +63,7 @@ class Trail:
         """Drops long clauses that attach returned; to be called at level 0, where no reason is asked for."""
         for clause in clauses:
             clause.clear()
-        self._watched = [[clause for clause in row if clause] for row in self._watched]
+        self._watched = [[kept for kept in row if kept] for row in self._watched]
 
     def begin_level(self):
         """Begins a new level."""

@@ -28,7 +28,8 @@ class Units:
         if len(literals) == 0:
             self._broken = True
         elif len(literals) == 1:
-            self._broken, _ = self._assume(literals)
+            conflict, _ = self._assume(literals)
+            self._broken = conflict
         elif len(literals) < 4:
             self._add_short(literals)
         else:

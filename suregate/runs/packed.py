@@ -50,7 +50,7 @@ def packed_run(circuit, courses):
         words = packed_values(net, state_words, row_words, mask)
         cycle_words.append([word_of(words, literal, mask) for _, literal in circuit.outputs])
         state_words = [word_of(words, literal, mask) for _, literal in net.latches]
-    return [[_bits_of_case(words, case) for words in cycle_words] for case in range(len(courses))]
+    return [[_bits_of_case(told, case) for told in cycle_words] for case in range(len(courses))]
 
 
 def _word_of_bits(bits):
