@@ -2,9 +2,11 @@
 
 import random
 import unittest
+from unittest import mock
 
 from helpers import holds, models, plain, random_circuit, random_clauses
 
+from suregate.clauses import search as search_file
 from suregate.clauses.search import Search, decide
 from suregate.clauses.units import first_unfounded
 from suregate.frames.frames import frame_clauses
@@ -127,6 +129,19 @@ class DecideTest(SearchChecks):
         self.assertIsNone(search.model_under([]))
         self.assertGreater(len(search.learned), 2000)
         self.check_lines(search.learned, clauses, [])
+
+    def test_learned_clauses_that_the_search_drops_stay_learned(self):
+        count, clauses = pigeons(5)
+        with mock.patch.multiple(search_file, FIRST_PATIENCE=10, FIRST_MEMORY=20):
+            self.assertFalse(self.check_decide(count, clauses, []))
+            # A further variable lets the first pigeon stay outside.
+            outside = 2 * count
+            clauses[0] += (outside,)
+            search = Search(count + 1, clauses)
+            for _ in range(3):
+                self.assertIsNone(search.model_under([outside ^ 1]))
+                self.check_lines(search.learned, clauses, [outside ^ 1])
+                self.check_model(search.model_under([outside]), count + 1, clauses, [outside])
 
     def test_questions_about_nets(self):
         for seed in range(10):

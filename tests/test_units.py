@@ -34,18 +34,23 @@ class SpreadTest(unittest.TestCase):
         self.assertEqual((False, [1, 3, 5]), Units(clauses).spread([5]))
         self.assertEqual((True, []), Units(clauses).spread([0, 9]))
 
-    def test_long_clauses(self):
-        for length in range(2, 9):
-            clause = tuple(range(0, 2 * length, 2))
-            complements = [literal ^ 1 for literal in clause]
-            units = Units([clause])
-            for left_out in range(length):
-                assumed = complements[:left_out] + complements[left_out + 1:]
-                self.assertEqual((False, sorted(assumed + [2 * left_out])), units.spread(assumed))
-                self.assertEqual((False, sorted(assumed[1:])), units.spread(assumed[1:]))
-            self.assertEqual((True, []), units.spread(complements))
-            assumed = [clause[-1]] + complements[:-1]
-            self.assertEqual((False, sorted(assumed)), units.spread(assumed))
+    def test_clauses_of_all_lengths_and_marks(self):
+        for length in range(2, 7):
+            for marks in itertools.product((0, 1), repeat=length):
+                self.check_clause(tuple(2 * variable + mark for variable, mark in enumerate(marks)))
+
+    def check_clause(self, clause):
+        """Checks what a clause alone makes true when some of its literals are false."""
+        complements = [literal ^ 1 for literal in clause]
+        units = Units([clause])
+        for place, literal in enumerate(clause):
+            others = complements[:place] + complements[place + 1:]
+            self.assertEqual((False, sorted(others + [literal])), units.spread(others))
+            self.assertEqual((False, sorted(others[1:])), units.spread(others[1:]))
+            self.assertEqual((False, sorted(others + [literal])), units.spread([literal] + others))
+        self.assertEqual((True, []), units.spread(complements))
+        self.assertEqual((True, []), units.spread(complements[::-1]))
+        self.assertTrue(units.follows(clause))
 
     def test_repeated_literals(self):
         self.assertEqual((False, [4]), Units([(4, 4)]).spread([]))
@@ -98,6 +103,25 @@ class SpreadTest(unittest.TestCase):
                 self.assertEqual(slow_spread(clauses, assumed), units.spread(assumed), (clauses, assumed))
                 conflict = slow_spread(clauses, [literal ^ 1 for literal in assumed])[0]
                 self.assertIs(conflict, units.follows(tuple(assumed)))
+
+    def test_questions_about_long_clauses_one_after_another(self):
+        chance = random.Random(8)
+        conflicts = 0
+        for _ in range(40):
+            clauses = [
+                tuple(2 * variable + chance.randrange(2) for variable in chance.sample(range(9), chance.randrange(4, 8)))
+                for _ in range(40)]
+            units = Units(clauses)
+            for _ in range(30):
+                assumed = [2 * variable + chance.randrange(2) for variable in chance.sample(range(9), 5)]
+                expected = slow_spread(clauses, assumed)
+                conflicts += expected[0]
+                self.assertEqual(expected, units.spread(assumed))
+                self.assertIs(expected[0], units.follows(tuple(literal ^ 1 for literal in assumed)))
+                if chance.randrange(4) == 0:
+                    clauses.append(tuple(literal ^ 1 for literal in assumed))
+                    units.add_clause(clauses[-1])
+        self.assertGreater(conflicts, 100)
 
     def test_the_order_of_clauses_makes_no_difference(self):
         clauses = [(1, 2), (3, 4, 7), (0, 6), (5, 8, 9, 10), (8, 5, 10)]

@@ -14,7 +14,6 @@ class Search:
 
     def __init__(self, count, clauses):
         self.learned = []
-        self._count = count
         self._trail = Trail(count)
         self._order = Order(count)
         self._broken = False

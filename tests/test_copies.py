@@ -1,0 +1,115 @@
+"""Promise [2]: arguments stay as they are, nothing is kept of them, and each returned list is new."""
+
+import unittest
+
+from helpers import plain, random_circuit, random_course, scramble
+
+from suregate.clauses.search import Search, decide
+from suregate.clauses.units import Units, first_unfounded
+from suregate.frames import frames
+from suregate.graph.builder import Builder, image_of, leaf_images, rebuilt
+from suregate.graph.circuit import Circuit
+from suregate.graph.joining import Joined
+from suregate.graph.net import Net
+from suregate.judge.alike import fault_of_alike, fault_of_chain
+from suregate.judge.certificate import AlikeCertificate
+from suregate.retime.weights import check_labels, depth_under, pin_weights
+from suregate.runs import packed, plain as plain_runs
+from suregate.text.certificates import read_certificate, write_certificate
+from suregate.text.circuits import read_circuit, write_circuit
+from suregate.text.flows import fault_of_text, read_chain, write_chain
+
+
+def calls():
+    """Returns calls of functions and classes, each with arguments of its own."""
+    builder = Builder(6)
+    builder.unlike(2, 8)
+    return [
+        (Net, [2, [(0, 3)], [(2, 4)]]),
+        (Circuit, [["a"], [("q", 0, 2)], [(2, 4)], [("y", 6)]]),
+        (Circuit.as_net, [random_circuit(1)]),
+        (leaf_images, [random_circuit(1)]),
+        (image_of, [[0, 2, 5], 5]),
+        (rebuilt, [random_circuit(1), builder, [0, 2, 4, 6, 8, 10, 12] + [3] * 12]),
+        (Joined, [random_circuit(1), random_circuit(2)]),
+        (plain_runs.value_of, [[0, 1], 3]),
+        (plain_runs.node_values, [random_circuit(1).as_net(), [0, 1, 1], [1, 0, 1]]),
+        (plain_runs.start_state, [random_circuit(1)]),
+        (plain_runs.step, [random_circuit(1), [0, 1, 1], [1, 0, 1]]),
+        (plain_runs.run, [random_circuit(1), random_course(1, 3, 9)]),
+        (plain_runs.state_after, [random_circuit(1), random_course(1, 3, 9)]),
+        (plain_runs.state_after, [random_circuit(1), []]),
+        (packed.word_of, [[0, 2], 3, 3]),
+        (packed.packed_values, [random_circuit(1).as_net(), [1, 2, 3], [3, 0, 1], 3]),
+        (packed.row_of, [3, 5]),
+        (packed.all_rows, [3]),
+        (packed.packed_run, [random_circuit(1), [random_course(1, 3, 4), random_course(2, 3, 4)]]),
+        (write_circuit, [random_circuit(1)]),
+        (read_circuit, [write_circuit(random_circuit(1))]),
+        (AlikeCertificate, [[[1, 2]], [[3]], [[]], [[4, 5]]]),
+        (write_certificate, [AlikeCertificate([(1,)], [()], [(2, 3)], [(4,)])]),
+        (read_certificate, ["certificate\nfact 1 2\nnext\n"]),
+        (write_chain, [[random_circuit(1), random_circuit(2)], [AlikeCertificate([(1,)], [], [], [])]]),
+        (read_chain, ["flow\ncircuit\ninput a\ncertificate\nline 2\ncircuit\n"]),
+        (fault_of_text, ["flow\ncircuit\ninput a\ncertificate\nline 2\ncircuit\n"]),
+        (Units, [[(2, 4), (3,), (5, 7, 9, 11)]]),
+        (first_unfounded, [[(2, 4), (3, 4)], [(4,), (4, 6), (2,)]]),
+        (Search, [4, [(2, 4), (3,)]]),
+        (decide, [4, [(2, 4), (3, 4)], [5, 6]]),
+        (decide, [4, [(2, 4), (3, 6)], [7]]),
+        (frames.in_frame, [random_circuit(1).as_net(), (1, 2), 2]),
+        (frames.frame_clauses, [random_circuit(1).as_net(), 2]),
+        (frames.start_clauses, [random_circuit(1).as_net()]),
+        (frames.link_clauses, [random_circuit(1).as_net(), 2]),
+        (frames.same_clauses, [4, 7]),
+        (frames.opening_clauses, [random_circuit(1).as_net(), 2]),
+        (fault_of_alike, [random_circuit(1), random_circuit(2), AlikeCertificate([], [(0, 1)], [(2, 3)], [])]),
+        (fault_of_chain, [[random_circuit(1), random_circuit(2)], [AlikeCertificate([], [(0, 1)], [], [])]]),
+        (pin_weights, [random_circuit(1)]),
+        (check_labels, [random_circuit(1), [0] * 12]),
+        (depth_under, [random_circuit(1), [0] * 12]),
+    ]
+
+
+class CopiesTest(unittest.TestCase):
+    def test_arguments_stay_as_they_are(self):
+        for function, arguments in calls():
+            before = plain(arguments)
+            function(*arguments)
+            self.assertEqual(before, plain(arguments), function)
+
+    def test_results_do_not_hang_on_each_other(self):
+        for function, arguments in calls():
+            first = function(*arguments)
+            before = plain(first)
+            second = function(*arguments)
+            scramble(first)
+            self.assertEqual(before, plain(second), function)
+            self.assertEqual(before, plain(function(*arguments)), function)
+
+    def test_results_do_not_hang_on_arguments(self):
+        for function, arguments in calls():
+            result = function(*arguments)
+            before = plain(result)
+            scramble(arguments)
+            self.assertEqual(before, plain(result), function)
+
+    def test_calls_that_raise_an_error_change_nothing(self):
+        failing = [
+            (Circuit, [["a"], [("q", 2, 2)], [(2, 4)], [("y", 6)]]),
+            (rebuilt, [random_circuit(1), Builder(1), [999] * 19]),
+            (Joined, [random_circuit(1), random_circuit(2, output_count=1)]),
+            (plain_runs.run, [random_circuit(1), [[0, 0, 0], [0, 0, 2]]]),
+            (plain_runs.state_after, [random_circuit(1), [[0, 0, 0], [0, 0]]]),
+            (check_labels, [random_circuit(1), [0] * 11]),
+            (depth_under, [random_circuit(1), [0] * 12 + [-1]]),
+        ]
+        for function, arguments in failing:
+            before = plain(arguments)
+            with self.assertRaises(ValueError):
+                function(*arguments)
+            self.assertEqual(before, plain(arguments), function)
+
+
+if __name__ == "__main__":
+    unittest.main()
