@@ -2,16 +2,16 @@
 
 from heapq import heappop, heappush
 
-# How much a conflict counts for a variable that takes part in it: one part of so many.
-SHARE = 8
+# The time from one conflict to the next, and the part of the way (one of so many) that a weight goes to a conflict.
 STRIDE = 1024
+SHARE = 8
 
 
 class Order:
     """Variables with weights, the heaviest first; its methods change it.
 
-    The weight of a variable is a mean of the times of conflicts, in which late ones count most, and those in
-    which the variable took no part count as the last one in which it did. So weights never have to shrink.
+    A conflict draws the weights of the variables that took part in it a part of the way to its own time. So weights
+    only grow, and a variable that takes part in many late conflicts is heavier than one that took part in early ones.
     """
 
     def __init__(self, count):
