@@ -13,8 +13,13 @@ from suregate.graph.joining import Joined
 from suregate.graph.net import Net
 from suregate.judge.alike import fault_of_alike, fault_of_chain
 from suregate.judge.certificate import AlikeCertificate
+from suregate.judge.images import image_certificate
+from suregate.passes import balance, refactor, structure
+from suregate.retime.search import labels_for, least_depth
 from suregate.retime.weights import check_labels, depth_under, pin_weights
 from suregate.runs import packed, plain as plain_runs
+from suregate.tables import networks, products, tables
+from suregate.tables.cuts import cuts_of
 from suregate.text.certificates import read_certificate, write_certificate
 from suregate.text.circuits import read_circuit, write_circuit
 from suregate.text.flows import fault_of_text, read_chain, write_chain
@@ -65,6 +70,30 @@ def calls():
         (frames.opening_clauses, [random_circuit(1).as_net(), 2]),
         (fault_of_alike, [random_circuit(1), random_circuit(2), AlikeCertificate([], [(0, 1)], [(2, 3)], [])]),
         (fault_of_chain, [[random_circuit(1), random_circuit(2)], [AlikeCertificate([], [(0, 1)], [], [])]]),
+        (image_certificate, [random_circuit(1), random_circuit(1), list(range(0, 38, 2)), {7: [(1, 2)], 9: [()]}]),
+        (structure.hash_circuit, [random_circuit(1)]),
+        (structure.apply_rules, [random_circuit(1)]),
+        (structure.trim, [random_circuit(1)]),
+        (structure.needed_nodes, [random_circuit(1)]),
+        (structure.and_count, [random_circuit(1)]),
+        (balance.balance, [random_circuit(1)]),
+        (balance.balanced, [random_circuit(1)]),
+        (balance.levels, [random_circuit(1)]),
+        (balance.depth, [random_circuit(1)]),
+        (tables.cone_table, [random_circuit(1).as_net(), 36, [1, 2, 3, 4, 5, 6]]),
+        (products.products_table, [[(0, 2), (1,)], 3]),
+        (products.sum_of_products, [0b10010110, 3]),
+        (networks.network_table, [([(2, 5), (3, 4)], 9), 2]),
+        (networks.network_for, [0b10010110, 3]),
+        (cuts_of, [random_circuit(1).as_net(), 4]),
+        (refactor.replace_cones, [random_circuit(1), {}]),
+        (refactor.replace_cones, [Circuit(["a", "b"], [], [(2, 4), (6, 5)], [("y", 9)]), {4: (1, 2)}]),
+        (refactor.settled_choice, [random_circuit(1)]),
+        (refactor.refactor, [random_circuit(1)]),
+        (labels_for, [random_circuit(1), 0]),
+        (labels_for, [random_circuit(1), 2]),
+        (labels_for, [random_circuit(1), 9]),
+        (least_depth, [random_circuit(1)]),
         (pin_weights, [random_circuit(1)]),
         (check_labels, [random_circuit(1), [0] * 12]),
         (depth_under, [random_circuit(1), [0] * 12]),
@@ -101,6 +130,9 @@ class CopiesTest(unittest.TestCase):
             (Joined, [random_circuit(1), random_circuit(2, output_count=1)]),
             (plain_runs.run, [random_circuit(1), [[0, 0, 0], [0, 0, 2]]]),
             (plain_runs.state_after, [random_circuit(1), [[0, 0, 0], [0, 0]]]),
+            (tables.cone_table, [random_circuit(1).as_net(), 36, [1]]),
+            (cuts_of, [random_circuit(1).as_net(), 7]),
+            (refactor.replace_cones, [random_circuit(1), {18: (1,), 3: ()}]),
             (check_labels, [random_circuit(1), [0] * 11]),
             (depth_under, [random_circuit(1), [0] * 12 + [-1]]),
         ]

@@ -39,6 +39,19 @@ INTERFACE = {
         "AlikeCertificate": ("facts start_lines lines next_lines", {"__eq__": "other"}, "")},
     "judge.alike": {
         "fault_of_alike": "left right certificate", "fault_of_chain": "circuits certificates"},
+    "judge.images": {"image_certificate": "before after images extra"},
+    "passes.structure": {
+        "hash_circuit": "circuit", "apply_rules": "circuit", "trim": "circuit", "needed_nodes": "circuit",
+        "and_count": "circuit"},
+    "passes.balance": {"balance": "circuit", "balanced": "circuit", "levels": "circuit", "depth": "circuit"},
+    "tables.tables": {
+        "full_table": "count", "leaf_table": "index count", "half_table": "table index value count",
+        "depends_on": "table index count", "cone_table": "net literal leaves"},
+    "tables.products": {"products_table": "products count", "sum_of_products": "table count"},
+    "tables.networks": {"network_table": "network count", "network_for": "table count"},
+    "tables.cuts": {"cuts_of": "net size"},
+    "passes.refactor": {"replace_cones": "circuit choice", "settled_choice": "circuit", "refactor": "circuit"},
+    "retime.search": {"labels_for": "circuit depth", "least_depth": "circuit"},
     "retime.weights": {
         "pin_weights": "circuit", "check_labels": "circuit labels", "depth_under": "circuit labels"},
 }

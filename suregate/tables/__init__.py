@@ -1,0 +1,1 @@
+"""Tables of small functions, products and networks for them, and cuts."""
