@@ -6,6 +6,9 @@ from helpers import plain, random_circuit, random_course, scramble
 
 from suregate.clauses.search import Search, decide
 from suregate.clauses.units import Units, first_unfounded
+from suregate.compare.compare import compare
+from suregate.compare.facts import blocking_clauses
+from suregate.compare.reach import explore, next_states, rows_that_differ
 from suregate.frames import frames
 from suregate.graph.builder import Builder, image_of, leaf_images, rebuilt
 from suregate.graph.circuit import Circuit
@@ -14,15 +17,34 @@ from suregate.graph.net import Net
 from suregate.judge.alike import fault_of_alike, fault_of_chain
 from suregate.judge.certificate import AlikeCertificate
 from suregate.judge.images import image_certificate
+from suregate.judge.unlike import fault_of_unlike
+from suregate.latches.latches import merge_latches, steady_literals
 from suregate.passes import balance, refactor, structure
+from suregate.retime.layers import retime
 from suregate.retime.search import labels_for, least_depth
 from suregate.retime.weights import check_labels, depth_under, pin_weights
 from suregate.runs import packed, plain as plain_runs
+from suregate.sweep.likeness import Likeness
+from suregate.sweep.sweep import like_literals, sweep
 from suregate.tables import networks, products, tables
 from suregate.tables.cuts import cuts_of
 from suregate.text.certificates import read_certificate, write_certificate
 from suregate.text.circuits import read_circuit, write_circuit
 from suregate.text.flows import fault_of_text, read_chain, write_chain
+
+
+DELAY_OF_ONE = Circuit(["a"], [("q", 0, 2)], [], [("y", 4)])
+DELAY_OF_TWO = Circuit(["a"], [("p", 0, 2), ("q", 0, 4)], [], [("y", 6)])
+
+
+def copy_of(circuit):
+    """Returns an equal circuit."""
+    return Circuit(circuit.inputs, circuit.latches, circuit.ands, circuit.outputs)
+
+
+def compared(left, right):
+    """Compares two circuits."""
+    return compare(left, right, most=100)
 
 
 def calls():
@@ -90,6 +112,20 @@ def calls():
         (refactor.replace_cones, [Circuit(["a", "b"], [], [(2, 4), (6, 5)], [("y", 9)]), {4: (1, 2)}]),
         (refactor.settled_choice, [random_circuit(1)]),
         (refactor.refactor, [random_circuit(1)]),
+        (Likeness, [random_circuit(1).as_net(), [(2, 4), (6,)]]),
+        (like_literals, [random_circuit(1)]),
+        (sweep, [random_circuit(1)]),
+        (steady_literals, [random_circuit(1)]),
+        (merge_latches, [random_circuit(1)]),
+        (rows_that_differ, [Joined(random_circuit(1), random_circuit(2)), [0, 1, 1, 0, 1, 0]]),
+        (next_states, [Joined(random_circuit(1), random_circuit(2)), [0, 1, 1, 0, 1, 0]]),
+        (explore, [Joined(random_circuit(1), random_circuit(1)), 100]),
+        (explore, [Joined(copy_of(DELAY_OF_ONE), copy_of(DELAY_OF_TWO)), 100]),
+        (blocking_clauses, [[(0, 1), (1, 1)], 3, 2]),
+        (compared, [random_circuit(1), random_circuit(1)]),
+        (compared, [copy_of(DELAY_OF_ONE), copy_of(DELAY_OF_TWO)]),
+        (fault_of_unlike, [copy_of(DELAY_OF_ONE), copy_of(DELAY_OF_TWO), [[1], [0]], [[(1,)]]]),
+        (retime, [Circuit(["a"], [("q", 0, 2)], [(4, 4)], [("y", 6)]), [1]]),
         (labels_for, [random_circuit(1), 0]),
         (labels_for, [random_circuit(1), 2]),
         (labels_for, [random_circuit(1), 9]),
@@ -133,6 +169,9 @@ class CopiesTest(unittest.TestCase):
             (tables.cone_table, [random_circuit(1).as_net(), 36, [1]]),
             (cuts_of, [random_circuit(1).as_net(), 7]),
             (refactor.replace_cones, [random_circuit(1), {18: (1,), 3: ()}]),
+            (explore, [Joined(random_circuit(1), random_circuit(1)), 1]),
+            (compared, [random_circuit(1), random_circuit(2, output_count=1)]),
+            (retime, [random_circuit(1), [0] * 11]),
             (check_labels, [random_circuit(1), [0] * 11]),
             (depth_under, [random_circuit(1), [0] * 12 + [-1]]),
         ]

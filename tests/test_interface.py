@@ -51,6 +51,14 @@ INTERFACE = {
     "tables.networks": {"network_table": "network count", "network_for": "table count"},
     "tables.cuts": {"cuts_of": "net size"},
     "passes.refactor": {"replace_cones": "circuit choice", "settled_choice": "circuit", "refactor": "circuit"},
+    "sweep.likeness": {"Likeness": ("net clauses", {"parting": "x y", "lines_since": "count"}, "")},
+    "sweep.sweep": {"like_literals": "circuit", "sweep": "circuit"},
+    "latches.latches": {"steady_literals": "circuit", "merge_latches": "circuit"},
+    "compare.reach": {"rows_that_differ": "joined state", "next_states": "joined state", "explore": "joined most"},
+    "compare.facts": {"blocking_clauses": "states first_latch latch_count"},
+    "compare.compare": {"compare": "left right most"},
+    "judge.unlike": {"fault_of_unlike": "left right course layers"},
+    "retime.layers": {"retime": "circuit labels"},
     "retime.search": {"labels_for": "circuit depth", "least_depth": "circuit"},
     "retime.weights": {
         "pin_weights": "circuit", "check_labels": "circuit labels", "depth_under": "circuit labels"},
@@ -78,6 +86,13 @@ class InterfaceTest(unittest.TestCase):
             for name, told in names.items():
                 if isinstance(told, tuple):
                     self.check_class(vars(module)[name], *told)
+
+    def test_arguments_by_keyword(self):
+        for file, name, keyword in (("compare.compare", "compare", "most"),):
+            function = vars(importlib.import_module("suregate." + file))[name]
+            parameter = inspect.signature(function).parameters[keyword]
+            self.assertEqual(
+                (inspect.Parameter.KEYWORD_ONLY, inspect.Parameter.empty), (parameter.kind, parameter.default))
 
     def check_class(self, value, arguments, methods, properties):
         self.assertTrue(inspect.isclass(value), value)

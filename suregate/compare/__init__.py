@@ -1,0 +1,1 @@
+"""Comparing two circuits."""

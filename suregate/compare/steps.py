@@ -1,0 +1,129 @@
+"""Lines over more and more cycles of a net, found with the help of the states that can be met in so many cycles."""
+
+from suregate.clauses.search import Search
+from suregate.compare.proofs import add_likes, next_claim, state_words
+from suregate.frames.frames import frame_clauses, in_frame, same_clauses, start_clauses
+from suregate.runs.packed import mask_of, word_of
+
+
+class Steps:
+    """The frames of a net, each with a search over its own clauses; the methods change it.
+
+    The states are all that can be met in the cycles of the frames, in the order of the cycles in which they are met
+    first; the lengths are the numbers of these cycles.
+    """
+
+    def __init__(self, net, states, lengths):
+        self._net = net
+        self._states = states
+        self._lengths = {state: length for state, length in zip(states, lengths)}
+        # For each node of a latch, in how many of the states it is 1, as a word.
+        self._words = [0] * net.first_latch + state_words(states, len(states))
+        self._searches = []
+        self._line_counts = []
+        # For each frame the number of states that can be met in it, and what has been learned of its latches.
+        self._state_counts = []
+        self._known = []
+        self._lines = []
+
+    def layer(self, claims):
+        """Adds a frame; returns lines from which the claims follow in it, in turn with those of the layers before."""
+        frame = len(self._searches)
+        clauses = frame_clauses(self._net, 0)
+        if frame == 0:
+            clauses += start_clauses(self._net)
+        self._searches.append(Search(self._net.node_count, clauses))
+        self._line_counts.append(0)
+        met = [state for state in self._states if self._lengths[state] <= frame]
+        self._state_counts.append(len(met))
+        self._known.append([])
+        self._lines = []
+        add_likes(self._net, self, met)
+        for claim in claims:
+            self._prove(claim, frame)
+        return self._lines
+
+    def parting(self, x, y):
+        """Returns a model of the last frame in which two literals differ; learns lines if there is none, or None."""
+        for clause in same_clauses(x, y):
+            model = self._prove(clause, len(self._searches) - 1)
+            if model is not None:
+                return model
+        return None
+
+    def _prove(self, claim, frame):
+        """Learns lines from which a claim follows in a frame and returns None, or a model in a state that is met."""
+        # Each entry: a claim, its frame, and the clause that follows from it in the next frame.
+        waiting = [(claim, frame, None)]
+        if frame > 0 and self._is_about_latches(claim):
+            waiting = [(next_claim(self._net, claim), frame - 1, claim)]
+        while waiting:
+            claim, frame, clause = waiting[-1]
+            model = self._ask(claim, frame)
+            if model is None:
+                waiting.pop()
+                self._searches[frame].add_clause(claim)
+                if clause is not None:
+                    self._add_known(clause, frame + 1)
+            elif self._is_met(model, frame):
+                return model
+            else:
+                # Its state is not met in this frame, and this follows from the frame before.
+                missing = self._missing_clause(frame, model)
+                waiting.append((next_claim(self._net, missing), frame - 1, missing))
+        return None
+
+    def _ask(self, claim, frame):
+        """Returns a model of the frame in which the claim does not hold, or None; collects the lines learned."""
+        search = self._searches[frame]
+        model = search.model_under([literal ^ 1 for literal in claim])
+        lines = search.learned[self._line_counts[frame]:]
+        self._line_counts[frame] += len(lines)
+        self._lines.extend([in_frame(self._net, line, frame) for line in lines])
+        return model
+
+    def _add_known(self, clause, frame):
+        """Adds a clause of latches to what is known of a frame."""
+        self._searches[frame].add_clause(clause)
+        self._known[frame].append(clause)
+        self._lines.append(in_frame(self._net, clause, frame))
+
+    def _is_about_latches(self, claim):
+        """Tells whether the claim is a clause of latches and the constant that holds in all states of the last frame.
+        """
+        first, end = self._net.first_latch, self._net.first_and
+        about = all([literal < 2 or first <= literal // 2 < end for literal in claim])
+        return about and self._holds(claim, len(self._searches) - 1)
+
+    def _is_met(self, model, frame):
+        """Tells whether the state of a model can be met in the frame."""
+        state = tuple(model[self._net.first_latch:self._net.first_and])
+        return state in self._lengths and self._lengths[state] <= frame
+
+    def _holds(self, clause, frame):
+        """Tells whether a clause of latches holds in all states that can be met in the frame."""
+        mask = mask_of(self._state_counts[frame])
+        word = 0
+        for literal in clause:
+            word |= word_of(self._words, literal, mask)
+        return word & mask == mask
+
+    def _missing_clause(self, frame, model):
+        """Returns a clause of latches that does not hold in the model, but in all states that the frame can be in."""
+        # What was of use in the frame before is likely to be so again.
+        for clause in self._known[frame - 1]:
+            if all([model[literal // 2] == literal & 1 for literal in clause]) and self._holds(clause, frame):
+                return clause
+        together = mask_of(self._state_counts[frame])
+        literals = []
+        while together:
+            # The latch that sets most of the states apart from the model comes first.
+            apart = [
+                together & word_of(self._words, 2 * node + model[node], together)
+                for node in range(self._net.first_latch, self._net.first_and)]
+            counts = [f"{word:b}".count("1") for word in apart]
+            place = counts.index(max(counts))
+            node = self._net.first_latch + place
+            literals.append(2 * node + model[node])
+            together ^= apart[place]
+        return tuple(literals)

@@ -1,0 +1,1 @@
+"""Merging latches that are always equal, complementary or constant."""

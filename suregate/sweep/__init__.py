@@ -1,0 +1,1 @@
+"""Sweeping: one node for each function."""
