@@ -11,6 +11,7 @@ from suregate.graph.builder import Builder, image_of
 from suregate.graph.circuit import Circuit
 from suregate.graph.joining import Joined
 from suregate.judge.alike import fault_of_alike
+from suregate.judge.certificate import AlikeCertificate
 from suregate.latches.latches import merge_latches, steady_literals
 from suregate.runs.plain import cycles, node_values, start_state, value_of
 
@@ -183,6 +184,39 @@ class LatchesTest(SuregateTest):
         circuit = Circuit(
             [], [("p", 0, 8), ("q", 0, 2), ("r", 0, 10)], [(3, 5), (2, 4)], [("y", 6)])
         self.assertEqual([2, 4, 6], self.check(circuit))
+
+    def test_next_literals_that_differ_rarely(self):
+        # The latches take the and of all 16 inputs, of all but the last one, and so on, or the complements.
+        inputs = [f"i{place}" for place in range(16)]
+        first = 1 + 16 + 10
+        ands = [(2, 4)] + [(2 * (first + place), 6 + 2 * place) for place in range(14)]
+        last = 2 * (first + 14)
+        wide = [(0, last), (1, last + 1), (0, last - 2), (1, last - 1), (1, last), (0, 0)]
+        latches = [(f"q{place}", start, literal) for place, (start, literal) in enumerate(wide)]
+        # And latches that differ only because those differ.
+        latches += [("s0", 0, 34), ("s1", 1, 36), ("s2", 0, 38), ("s3", 0, 44)]
+        circuit = Circuit(inputs, latches, ands, [("y", 46)])
+        steady = steady_literals(circuit)
+        self.assertEqual([34, 35, 38, 39, 42, 0, 46, 47, 50, 0], steady)
+        self.check_merged(circuit, steady)
+
+    def test_next_literals_that_are_the_same_in_another_way(self):
+        # Each latch is added to all inputs, from the first one on, from the last one on, or as a complement.
+        builder = Builder(12)
+        words = {}
+        for latch in (18, 20, 22, 24):
+            one = two = latch
+            for leaf in range(2, 18, 2):
+                one = builder.unlike(one, leaf)
+                two = builder.unlike(two, 18 - leaf)
+            words[latch] = one, two
+        latches = [("p", 0, words[18][0]), ("q", 0, words[20][1]), ("r", 1, words[22][1]), ("s", 1, words[24][0] ^ 1)]
+        circuit = Circuit([f"i{place}" for place in range(8)], latches, builder.pairs, [("y", 20), ("z", 23)])
+        self.assertEqual([18, 18, 19, 24], self.check(circuit))
+        # Here the lines are needed.
+        after, certificate = merge_latches(circuit)
+        plain_lines = AlikeCertificate(certificate.facts, [], certificate.lines[-2 * len(circuit.ands):], [])
+        self.assertEqual("next", fault_of_alike(circuit, after, plain_lines)[0])
 
     def test_edges(self):
         for circuit in edge_circuits():

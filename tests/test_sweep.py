@@ -144,6 +144,23 @@ class SweepTest(SuregateTest):
         self.assertEqual(0, likes[-2])
         self.assertEqual(1, len([literal for node, literal in enumerate(likes) if literal != 2 * node]))
 
+    def test_complements_of_nodes_that_are_rarely_true(self):
+        # The and of all leaves, its complement, the and of all from the other end, the complement of that, and so on.
+        ands = []
+        literals = []
+        for leaves in (range(1, 13), range(12, 0, -1)):
+            literal = 1
+            for leaf in leaves:
+                ands.append((2 * leaf, literal))
+                literal = 2 * (12 + len(ands))
+            ands.append((literal ^ 1, literal ^ 1))
+            literals += [literal, literal + 2]
+        circuit = Circuit(
+            [f"i{k}" for k in range(12)], [], ands, [(f"o{k}", literal) for k, literal in enumerate(literals)])
+        likes = self.check(circuit)
+        one = literals[0]
+        self.assertEqual([one, one ^ 1, one, one ^ 1], [image_of(likes, literal) for literal in literals])
+
     def test_a_function_built_in_two_ways(self):
         for width in (1, 2, 5, 6):
             circuit = two_sums(width)
@@ -156,6 +173,8 @@ class SweepTest(SuregateTest):
         circuit = two_sums(16)
         likes = like_literals(circuit)
         self.check_sweep(circuit, likes)
+        # Lines are not told again and again.
+        self.assertLess(len(sweep(circuit)[1].lines), 10 * len(circuit.ands))
         for place in range(16):
             (_, one), (_, two) = circuit.outputs[2 * place:2 * place + 2]
             self.assertEqual(image_of(likes, one), image_of(likes, two) ^ place & 1)

@@ -3,8 +3,6 @@
 
 def blocking_clauses(states, first_latch, latch_count):
     """Returns the clauses of the parts without a state, in order."""
-    if not states:
-        return [()]
     clauses = []
     # Each part: its states, by how many latches was divided, and the literals of these that are false in the part.
     waiting = [(list({state: True for state in states}), 0, ())]

@@ -14,31 +14,37 @@ def lines_for(net, clauses, claims, states):
     The claims are clauses that hold in each cycle in which the clauses hold; these hold in the states.
     """
     likeness = Likeness(net, clauses)
-    add_likes(net, likeness, states)
+    add_likes(net, likeness, state_words(states), len(states))
     for claim in claims:
         likeness.model_against(claim)
     return likeness.lines_since(0)
 
 
-def add_likes(net, prover, states):
-    """Lets the prover learn for each node which smaller one it is like; the nodes can differ only in the states.
+def add_likes(net, prover, latch_words, state_count):
+    """Lets the prover learn for each node which smaller one it is like; no node differs only in other states.
 
     Whatever is to be shown then, is shown of less different nodes.
     """
-    case_count = len(states) * (1 + LEAST_CASES // len(states))
-    leaf_words = scattered_words(net.input_count, case_count) + state_words(states, case_count)
+    times = 1 + LEAST_CASES // state_count
+    words = [_repeated(word, state_count, times) for word in latch_words]
+    case_count = state_count * times
+    leaf_words = scattered_words(net.input_count, case_count) + words
     classes = Classes(net, prover, leaf_words, case_count, net.input_count)
     for node in range(net.node_count):
         classes.like_literal(node)
 
 
-def state_words(states, case_count):
-    """Returns one word for each latch, whose cases are in the states, one after the other and again."""
-    words = [0] * len(states[0])
-    for case in range(case_count):
-        for place, value in enumerate(states[case % len(states)]):
-            words[place] |= value << case
-    return words
+def state_words(states):
+    """Returns one word for each latch, with one case for each of the states, in order."""
+    return [int("".join([str(value) for value in reversed(values)]), 2) for values in zip(*states)]
+
+
+def _repeated(word, count, times):
+    """Returns the word with its so many cases so many times."""
+    total = 0
+    for _ in range(times):
+        total = total << count | word
+    return total
 
 
 def goal_claims(goals):

@@ -17,14 +17,14 @@ class AllRows:
         """Returns the words of all nodes in a state, with one case for each row."""
         return packed_values(self._net, [self._mask * bit for bit in state], self._row_words, self._mask)
 
-    def rows_that_differ(self, words):
+    def differing_rows(self, words):
         """Returns the word of the rows under which the outputs differ, given the words of all nodes."""
         rows = 0
         for left, right in self._goals:
             rows |= word_of(words, left, self._mask) ^ word_of(words, right, self._mask)
         return rows
 
-    def next_states(self, words, most):
+    def states_after(self, words, most):
         """Returns the next states with their first rows, given the words of all nodes.
 
         Raises TooManyStates if there are more of them than so many.
@@ -47,14 +47,14 @@ class AllRows:
 
 def rows_that_differ(joined, state):
     """Returns the word of the rows under which the outputs differ in a joint state."""
-    rows = AllRows(joined)
-    return rows.rows_that_differ(rows.words_in(state))
+    all_at_once = AllRows(joined)
+    return all_at_once.differing_rows(all_at_once.words_in(state))
 
 
 def next_states(joined, state):
     """Returns the next states of a joint state, each with the first row that leads to it, in the order of the rows."""
-    rows = AllRows(joined)
-    return rows.next_states(rows.words_in(state), 1 << joined.joint.input_count)
+    all_at_once = AllRows(joined)
+    return all_at_once.states_after(all_at_once.words_in(state), 1 << joined.joint.input_count)
 
 
 def explore(joined, most):
@@ -65,7 +65,7 @@ def explore(joined, most):
 
 def explored(joined, most):
     """Returns what explore does, and in between for each state how many cycles lead to it."""
-    rows = AllRows(joined)
+    all_at_once = AllRows(joined)
     states = [tuple([start for start, _ in joined.joint.latches])]
     lengths = [0]
     # For each state but the first, the index of the state before it and the row that leads from there.
@@ -73,11 +73,11 @@ def explored(joined, most):
     met = {states[0]: True}
     visited = 0
     while visited < len(states):
-        words = rows.words_in(states[visited])
-        differing = rows.rows_that_differ(words)
+        words = all_at_once.words_in(states[visited])
+        differing = all_at_once.differing_rows(words)
         if differing != 0:
             return states, lengths, _course_to(joined.joint, origins, visited, first_case(differing))
-        for state, number in rows.next_states(words, most):
+        for state, number in all_at_once.states_after(words, most):
             if state not in met:
                 met[state] = True
                 states.append(state)

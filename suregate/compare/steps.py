@@ -15,10 +15,9 @@ class Steps:
 
     def __init__(self, net, states, lengths):
         self._net = net
-        self._states = states
         self._lengths = {state: length for state, length in zip(states, lengths)}
-        # For each node of a latch, in how many of the states it is 1, as a word.
-        self._words = [0] * net.first_latch + state_words(states, len(states))
+        # For each node of a latch a word with one case for each of the states.
+        self._words = [0] * net.first_latch + state_words(states)
         self._searches = []
         self._line_counts = []
         # For each frame the number of states that can be met in it, and what has been learned of its latches.
@@ -34,11 +33,12 @@ class Steps:
             clauses += start_clauses(self._net)
         self._searches.append(Search(self._net.node_count, clauses))
         self._line_counts.append(0)
-        met = [state for state in self._states if self._lengths[state] <= frame]
-        self._state_counts.append(len(met))
+        count = len([length for length in self._lengths.values() if length <= frame])
+        self._state_counts.append(count)
         self._known.append([])
         self._lines = []
-        add_likes(self._net, self, met)
+        latch_words = [word & mask_of(count) for word in self._words[self._net.first_latch:]]
+        add_likes(self._net, self, latch_words, count)
         for claim in claims:
             self._prove(claim, frame)
         return self._lines
@@ -121,9 +121,15 @@ class Steps:
             apart = [
                 together & word_of(self._words, 2 * node + model[node], together)
                 for node in range(self._net.first_latch, self._net.first_and)]
-            counts = [f"{word:b}".count("1") for word in apart]
+            counts = [_case_count_of(word) for word in apart]
             place = counts.index(max(counts))
             node = self._net.first_latch + place
             literals.append(2 * node + model[node])
             together ^= apart[place]
         return tuple(literals)
+
+
+def _case_count_of(word):
+    """Returns in how many cases the word has a 1."""
+    digits = f"{word:b}"
+    return digits.count("1")

@@ -31,10 +31,8 @@ class Partition:
 
     def steady_literal(self, node):
         """Returns the steady literal of a latch."""
-        for group in self.groups:
-            if node in group:
-                return 2 * group[0] ^ self._marks[group[0]] ^ self._marks[node]
-        return 2 * node
+        (group,) = [group for group in self.groups if node in group]
+        return 2 * group[0] ^ self._marks[group[0]] ^ self._marks[node]
 
     def _divide(self, words, mask):
         """Divides each group by the next values in some cases, in which the states agree with the partition.

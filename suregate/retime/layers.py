@@ -1,6 +1,6 @@
 """Retiming in layers: each layer moves latches forward over some ands, by one each."""
 
-from heapq import heapify, heappop, heappush
+from heapq import heappop, heappush
 
 from suregate.frames.frames import in_frame, same_clauses
 from suregate.graph.circuit import Circuit
@@ -88,8 +88,8 @@ class Layer:
                 if first_and <= literal // 2 < self._net.node_count:
                     readers[literal // 2 - first_and].append(index)
                     waiting[index] += 1
+        # An ascending list is a heap.
         ready = [index for index, count in enumerate(waiting) if count == 0]
-        heapify(ready)
         order = []
         while ready:
             index = heappop(ready)
