@@ -28,6 +28,38 @@ def counter(width, last=None, mark=0):
     return Circuit(["go"], latches, builder.pairs, [("y", hit ^ mark)])
 
 
+def rounds(count, shown):
+    """Returns two circuits that count cycles in which the input is 1, modulo some number, and show one of the counts.
+
+    One of them has a latch for each count, the other one has the count in binary.
+    """
+    builder = Builder(1 + count)
+    places = [4 + 2 * place for place in range(count)]
+    nexts = [builder.choose(2, places[place - 1], places[place]) for place in range(count)]
+    one = Circuit(
+        ["go"], [(f"p{place}", int(place == 0), literal) for place, literal in enumerate(nexts)],
+        builder.pairs, [("y", places[shown])])
+    width = (count - 1).bit_length()
+    builder = Builder(1 + width)
+    bits = [4 + 2 * place for place in range(width)]
+
+    def is_at(number):
+        literal = 1
+        for place, bit in enumerate(bits):
+            literal = builder.both(literal, bit ^ 1 ^ (number >> place & 1))
+        return literal
+
+    carry = 2
+    nexts = []
+    last = is_at(count - 1)
+    for bit in bits:
+        nexts.append(builder.choose(last, builder.both(bit, 3), builder.unlike(bit, carry)))
+        carry = builder.both(carry, bit)
+    hit = is_at(shown)
+    other = Circuit(["go"], [(f"c{place}", 0, literal) for place, literal in enumerate(nexts)], builder.pairs, [("y", hit)])
+    return one, other
+
+
 def delay(length, start=0, mark=0):
     """Returns a circuit that shows its input so many cycles later."""
     latches = [(f"d{place}", start, 2 + 2 * place) for place in range(length)]
@@ -55,6 +87,7 @@ def pairs_of_circuits():
         (Circuit(["a", "b"], [], [(2, 4)], [("y", 6)]), Circuit(["a", "b"], [], [(4, 2), (6, 4)], [("y", 8)])),
         (Circuit(["a"], [("q", 0, 2)], [], []), Circuit(["a"], [], [], [])),
         (delay(2), delay(2)), (delay(2), delay(3)), (delay(3), delay(3, 1)), (delay(1, 1, 1), delay(1)),
+        rounds(3, 1), rounds(5, 4), rounds(7, 0), (rounds(5, 2)[0], rounds(6, 2)[1]), (rounds(4, 3)[1], rounds(5, 3)[1]),
         (counter(2, 3), counter(2)), (counter(3, 5), counter(3)), (counter(3, 5), counter(3, 6)),
         (counter(3, 5), counter(3, 5)), (counter(2, 3), counter(3, 3)), (counter(3, mark=1), counter(2, 2, 1)),
     ]

@@ -3,7 +3,7 @@
 import unittest
 
 from helpers import SuregateTest, plain, random_circuit, random_course
-from joint_circuits import counter, delay, pairs_of_circuits, slow_explore, unlike_interfaces
+from joint_circuits import counter, delay, pairs_of_circuits, rounds, slow_explore, unlike_interfaces
 
 from suregate.clauses.units import Units
 from suregate.compare.compare import compare
@@ -131,6 +131,14 @@ class CompareTest(SuregateTest):
             self.assertEqual("alike", self.check(counter(width, last), counter(width, last))[0])
         self.assertEqual("unlike", self.check(counter(3, 5), counter(4, 5))[0])
         self.assertEqual("alike", self.check(counter(3, 3, 1), counter(3, 3, 1))[0])
+
+    def test_counts_kept_in_two_ways(self):
+        for count in (2, 3, 5, 6, 7, 11, 13):
+            one, other = rounds(count, count // 2)
+            self.assertEqual("alike", self.check(one, other)[0])
+            _, further = rounds(count + 1, count // 2)
+            word, course, _ = self.check(one, further)
+            self.assertEqual(("unlike", count + count // 2 + 1), (word, len(course)))
 
     def test_results_of_passes(self):
         for seed in range(12):

@@ -1,7 +1,7 @@
 """Comparing two circuits, with a certificate that they are alike, or a course that tells them apart."""
 
 from suregate.compare.facts import blocking_clauses
-from suregate.compare.proofs import goal_claims, lines_for, next_claim
+from suregate.compare.proofs import lines_for
 from suregate.compare.reach import explored
 from suregate.compare.steps import Steps
 from suregate.graph.joining import Joined
@@ -11,16 +11,14 @@ from suregate.judge.certificate import AlikeCertificate
 def compare(left, right, *, most):
     """Returns "alike" and the certificate, or "unlike", the course, and layers which show that none is shorter."""
     joined = Joined(left, right)
-    claims = goal_claims(joined.goals)
     states, lengths, course = explored(joined, most)
     if course is None:
-        return "alike", _certificate(joined.joint, claims, states)
+        return "alike", _certificate(joined.joint, states)
     steps = Steps(joined.joint, states, lengths)
-    return "unlike", course, [steps.layer(claims) for _ in course[1:]]
+    return "unlike", course, [steps.layer() for _ in course[1:]]
 
 
-def _certificate(net, claims, states):
+def _certificate(net, states):
     """Returns the certificate whose facts say that the joint state is one of these."""
     facts = blocking_clauses(states, net.first_latch, len(net.latches))
-    lines = lines_for(net, facts, claims + [next_claim(net, fact) for fact in facts], states)
-    return AlikeCertificate(facts, [], lines, [])
+    return AlikeCertificate(facts, [], lines_for(net, facts, states), [])

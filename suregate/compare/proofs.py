@@ -1,6 +1,5 @@
 """Lines from which clauses about one cycle and the next one follow."""
 
-from suregate.frames.frames import same_clauses
 from suregate.runs.scattered import scattered_words
 from suregate.sweep.classes import Classes
 from suregate.sweep.likeness import Likeness
@@ -8,23 +7,21 @@ from suregate.sweep.likeness import Likeness
 LEAST_CASES = 256
 
 
-def lines_for(net, clauses, claims, states):
-    """Returns lines of one cycle which follow in turn where the clauses hold, and from which the claims follow.
+def lines_for(net, facts, states):
+    """Returns lines of one cycle which follow in turn where the facts hold, the clauses that hold in just the states.
 
-    The claims are clauses that hold in each cycle in which the clauses hold; these hold in the states.
+    Behind them it follows that nodes with the same values in all these states are the same, and that the facts hold
+    in the next cycle.
     """
-    likeness = Likeness(net, clauses)
+    likeness = Likeness(net, facts)
     add_likes(net, likeness, state_words(states), len(states))
-    for claim in claims:
-        likeness.model_against(claim)
+    for fact in facts:
+        likeness.model_against(next_claim(net, fact))
     return likeness.lines_since(0)
 
 
 def add_likes(net, prover, latch_words, state_count):
-    """Lets the prover learn for each node which smaller one it is like; no node differs only in other states.
-
-    Whatever is to be shown then, is shown of less different nodes.
-    """
+    """Lets the prover show for each node which smaller one it is like; no two nodes differ only in other states."""
     times = 1 + LEAST_CASES // state_count
     words = [_repeated(word, state_count, times) for word in latch_words]
     case_count = state_count * times
@@ -45,14 +42,6 @@ def _repeated(word, count, times):
     for _ in range(times):
         total = total << count | word
     return total
-
-
-def goal_claims(goals):
-    """Returns the clauses that say that the literals of each goal are the same."""
-    claims = []
-    for x, y in goals:
-        claims.extend(same_clauses(x, y))
-    return claims
 
 
 def next_claim(net, clause):

@@ -25,8 +25,11 @@ class Steps:
         self._known = []
         self._lines = []
 
-    def layer(self, claims):
-        """Adds a frame; returns lines from which the claims follow in it, in turn with those of the layers before."""
+    def layer(self):
+        """Adds a frame; returns lines which follow in turn behind those of the layers before.
+
+        Behind them it follows that nodes are the same which have the same values in all states of this frame.
+        """
         frame = len(self._searches)
         clauses = frame_clauses(self._net, 0)
         if frame == 0:
@@ -39,8 +42,6 @@ class Steps:
         self._lines = []
         latch_words = [word & mask_of(count) for word in self._words[self._net.first_latch:]]
         add_likes(self._net, self, latch_words, count)
-        for claim in claims:
-            self._prove(claim, frame)
         return self._lines
 
     def parting(self, x, y):
@@ -62,7 +63,6 @@ class Steps:
             model = self._ask(claim, frame)
             if model is None:
                 waiting.pop()
-                self._searches[frame].add_clause(claim)
                 if clause is not None:
                     self._add_known(clause, frame + 1)
             elif self._is_met(model, frame):
@@ -77,6 +77,9 @@ class Steps:
         """Returns a model of the frame in which the claim does not hold, or None; collects the lines learned."""
         search = self._searches[frame]
         model = search.model_under([literal ^ 1 for literal in claim])
+        if model is None:
+            # The last line says at least as much as the claim.
+            search.add_clause(search.learned[-1])
         lines = search.learned[self._line_counts[frame]:]
         self._line_counts[frame] += len(lines)
         self._lines.extend([in_frame(self._net, line, frame) for line in lines])

@@ -23,8 +23,8 @@ class Likeness:
         """
         model = self._search.model_under([literal ^ 1 for literal in clause])
         if model is None:
-            # The last line says at least as much. With the clause, later questions are easier to answer.
-            self._search.add_clause(clause)
+            # The last line says at least as much as the clause. With it, later questions are easier to answer.
+            self._search.add_clause(self._search.learned[-1])
         return model
 
     def lines_since(self, count):
