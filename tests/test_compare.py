@@ -140,6 +140,29 @@ class CompareTest(SuregateTest):
             word, course, _ = self.check(one, further)
             self.assertEqual(("unlike", count + count // 2 + 1), (word, len(course)))
 
+    def test_nodes_that_are_rarely_true(self):
+        # The sum of three inputs, if all others are 1, built in two ways, beside delays of two and three cycles.
+        circuits = []
+        for length, turn in ((2, 1), (3, -1)):
+            builder = Builder(16 + length)
+            total = 0
+            for literal in (2, 4, 6)[::turn]:
+                total = builder.unlike(total, literal)
+            for literal in list(range(8, 34, 2))[::turn]:
+                total = builder.both(total, literal)
+            latches = [(f"d{place}", 0, 32 + 2 * place) for place in range(length)]
+            circuits.append(Circuit(
+                [f"i{place}" for place in range(16)], latches, builder.pairs, [("y", total), ("z", 32 + 2 * length)]))
+        word, course, layers = compared(*circuits)
+        self.assertEqual(("unlike", [[0] * 15 + [1], [0] * 16, [0] * 16]), (word, course))
+        self.assertIsNone(fault_of_unlike(*circuits, course, layers))
+        one, other = [Circuit(told.inputs, [], [
+            tuple(literal - 2 * len(told.latches) * (literal > 33) for literal in pair) for pair in told.ands], [
+                ("y", told.outputs[0][1] - 2 * len(told.latches))]) for told in circuits]
+        word, certificate = compared(one, other)
+        self.assertEqual("alike", word)
+        self.assertIsNone(fault_of_alike(one, other, certificate))
+
     def test_results_of_passes(self):
         for seed in range(12):
             circuit = random_circuit(seed, 3, 3, 30, 3)

@@ -56,6 +56,7 @@ class Steps:
         """Learns lines from which a claim follows in a frame and returns None, or a model in a state that is met."""
         # Each entry: a claim, its frame, and the clause that follows from it in the next frame.
         waiting = [(claim, frame, None)]
+        # As the cases of the last frame are in all its states, a claim about latches alone surely holds in these.
         if frame > 0 and self._is_about_latches(claim):
             waiting = [(next_claim(self._net, claim), frame - 1, claim)]
         while waiting:
@@ -64,7 +65,9 @@ class Steps:
             if model is None:
                 waiting.pop()
                 if clause is not None:
-                    self._add_known(clause, frame + 1)
+                    # It follows by propagation alone, so it is no line.
+                    self._searches[frame + 1].add_clause(clause)
+                    self._known[frame + 1].append(clause)
             elif self._is_met(model, frame):
                 return model
             else:
@@ -85,18 +88,10 @@ class Steps:
         self._lines.extend([in_frame(self._net, line, frame) for line in lines])
         return model
 
-    def _add_known(self, clause, frame):
-        """Adds a clause of latches to what is known of a frame."""
-        self._searches[frame].add_clause(clause)
-        self._known[frame].append(clause)
-        self._lines.append(in_frame(self._net, clause, frame))
-
     def _is_about_latches(self, claim):
-        """Tells whether the claim is a clause of latches and the constant that holds in all states of the last frame.
-        """
+        """Tells whether the claim is a clause of latches and the constant."""
         first, end = self._net.first_latch, self._net.first_and
-        about = all([literal < 2 or first <= literal // 2 < end for literal in claim])
-        return about and self._holds(claim, len(self._searches) - 1)
+        return all([literal < 2 or first <= literal // 2 < end for literal in claim])
 
     def _is_met(self, model, frame):
         """Tells whether the state of a model can be met in the frame."""
