@@ -143,13 +143,15 @@ class CompareTest(SuregateTest):
     def test_nodes_that_are_rarely_true(self):
         # The sum of three inputs, if all others are 1, built in two ways, beside delays of two and three cycles.
         circuits = []
-        for length, turn in ((2, 1), (3, -1)):
+        for length in (2, 3):
             builder = Builder(16 + length)
+            others = 1
+            for literal in range(8, 34, 2):
+                others = builder.both(others, literal)
             total = 0
-            for literal in (2, 4, 6)[::turn]:
-                total = builder.unlike(total, literal)
-            for literal in list(range(8, 34, 2))[::turn]:
-                total = builder.both(total, literal)
+            for literal in (2, 4, 6):
+                total = builder.unlike(total, builder.both(literal, others) if length == 3 else literal)
+            total = builder.both(total, others) if length == 2 else total
             latches = [(f"d{place}", 0, 32 + 2 * place) for place in range(length)]
             circuits.append(Circuit(
                 [f"i{place}" for place in range(16)], latches, builder.pairs, [("y", total), ("z", 32 + 2 * length)]))
