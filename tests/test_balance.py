@@ -194,6 +194,11 @@ class BalanceTest(unittest.TestCase):
         self.check_images(
             [(6, 8), (19, 2), (20, 4), (22, 6), (24, 8)], [("y", 26)], [18, None, None, None, 0], [(6, 8), (2, 4)])
 
+        # Of the three operands of level 1 that are then left, the first one is neither of the two that are complementary.
+        self.check_images(
+            [(6, 8), (2, 4), (2, 18), (22, 4), (24, 21)], [("y", 26), ("z", 18), ("w", 20)],
+            [18, 20, None, None, 0], [(6, 8), (2, 4)])
+
     def test_deep_chains(self):
         ands = [(2, 4)] + [(2 * (node - 1), 4 + 2 * (node % 7)) for node in range(10, 2000)]
         circuit = Circuit(list("abcdefgh"), [], ands, [("y", 2 * (8 + len(ands)))])

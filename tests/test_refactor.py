@@ -235,6 +235,12 @@ class SettledChoiceTest(SuregateTest):
             saved += self.check(random_circuit(seed, 2, 4, 18, 2))[1]
         self.assertGreater(saved, 0)
 
+    def test_just_eight_cuts_are_tried(self):
+        # In the first three circuits the eighth cut of an and saves ands, in the others the ninth one would.
+        for seed, inputs, ands in (
+                (1, 4, 12), (84, 4, 17), (4168, 7, 11), (98, 4, 19), (153, 4, 23), (2086, 5, 16)):
+            self.check(tree_circuit(seed, inputs, 0, ands))
+
     def test_edges(self):
         for circuit in edge_circuits():
             self.check(circuit)
