@@ -1,5 +1,6 @@
 """Promises [54] to [56]: refactoring."""
 
+import itertools
 import random
 import unittest
 
@@ -103,6 +104,22 @@ class ReplaceConesTest(SuregateTest):
         after = self.check(circuit, {2: (), 3: (1,), 4: (1,), 5: (3,), 6: (1,)})
         self.assertEqual([], after.ands)
         self.assertEqual([("y", 0), ("z", 0)], after.outputs)
+
+    def test_a_table_whose_leaves_all_count(self):
+        # The sum of four inputs; nothing is known of it before all four are known.
+        builder = Builder(4)
+        total = builder.unlike(builder.unlike(2, 8), builder.unlike(4, 6))
+        circuit = Circuit(["a", "b", "c", "d"], [], builder.pairs, [("y", total)])
+        for nodes in ((1, 2, 3, 4), (4, 1, 3, 2)):
+            choice = {total // 2: nodes}
+            self.check(circuit, choice)
+            after, certificate = replace_cones(circuit, choice)
+            joined = Joined(circuit, after)
+            _, images = slow_replaced(circuit, choice)
+            for clause in same_clauses(joined.from_left(total & ~1), joined.from_right(images[total // 2])):
+                for marks in itertools.product((0, 1), repeat=4):
+                    given = tuple(2 * node + mark for node, mark in zip(nodes, marks))
+                    self.assertIn(set(given + clause), [set(line) for line in certificate.lines])
 
     def test_images_of_leaves_that_meet(self):
         # Both literals of the key come from the same nodes, so that their images are equal, complementary, constant.
