@@ -8,7 +8,7 @@ class Likeness:
     """Tells whether literals of a net have the same value wherever some clauses hold; keeps the lines it learns."""
 
     def __init__(self, net, clauses):
-        self._search = Search(net.node_count, frame_clauses(net, 0) + clauses)
+        self._finder = Search(net.node_count, frame_clauses(net, 0) + clauses)
 
     def parting(self, x, y):
         """Returns a model in which the two literals have different values, or None; changes the object."""
@@ -21,12 +21,12 @@ class Likeness:
     def model_against(self, clause):
         """Returns a model in which a clause does not hold, or None if it follows behind the lines; changes the object.
         """
-        model = self._search.model_under([literal ^ 1 for literal in clause])
+        model = self._finder.model_under([literal ^ 1 for literal in clause])
         if model is None:
             # The last line says at least as much as the clause. With it, later questions are easier to answer.
-            self._search.add_clause(self._search.learned[-1])
+            self._finder.add_clause(self._finder.learned[-1])
         return model
 
     def lines_since(self, count):
         """Returns the lines learned so far without the first so many."""
-        return self._search.learned[count:]
+        return self._finder.learned[count:]
