@@ -9,6 +9,7 @@ from suregate.clauses.units import Units, first_unfounded
 from suregate.compare.compare import compare
 from suregate.compare.facts import blocking_clauses
 from suregate.compare.reach import explore, next_states, rows_that_differ
+from suregate.flow.flow import Flow, run_flow
 from suregate.frames import frames
 from suregate.graph.builder import Builder, image_of, leaf_images, rebuilt
 from suregate.graph.circuit import Circuit
@@ -17,13 +18,20 @@ from suregate.graph.net import Net
 from suregate.judge.alike import fault_of_alike, fault_of_chain
 from suregate.judge.certificate import AlikeCertificate
 from suregate.judge.images import image_certificate
+from suregate.judge.ring import fault_of_ring
 from suregate.judge.unlike import fault_of_unlike
 from suregate.latches.latches import merge_latches, steady_literals
+from suregate.mapping import netlist
+from suregate.mapping.covers import Mapping, map_circuit, netlist_circuit
+from suregate.mapping.flow import ways_or_cut
 from suregate.passes import balance, refactor, structure
 from suregate.retime.layers import retime
 from suregate.retime.search import labels_for, least_depth
 from suregate.retime.weights import check_labels, depth_under, pin_weights
 from suregate.runs import packed, plain as plain_runs
+from suregate.stuck.finding import CourseSet, finding_courses
+from suregate.stuck.hidden import remove_hidden
+from suregate.stuck.places import first_difference, places_of, with_stuck
 from suregate.sweep.likeness import Likeness
 from suregate.sweep.sweep import like_literals, sweep
 from suregate.tables import networks, products, tables
@@ -45,6 +53,21 @@ def copy_of(circuit):
 def compared(left, right):
     """Compares two circuits."""
     return compare(left, right, most=100)
+
+
+def found(circuit):
+    """Finds courses for all stuck places."""
+    return finding_courses(circuit, most=100)
+
+
+def removed(circuit):
+    """Removes the hidden places of a circuit."""
+    return remove_hidden(circuit, most=100)
+
+
+def new_netlist():
+    """Returns a netlist."""
+    return netlist.Netlist(["a"], [("q", 1, 2)], [((0, 1), 6), ((2, 0, 1), 99)], [("y", 3), ("z", 2)])
 
 
 def calls():
@@ -133,6 +156,33 @@ def calls():
         (pin_weights, [random_circuit(1)]),
         (check_labels, [random_circuit(1), [0] * 12]),
         (depth_under, [random_circuit(1), [0] * 12]),
+    ] + calls_of_mapping_and_flows()
+
+
+def calls_of_mapping_and_flows():
+    """Returns calls of functions and classes for netlists, stuck places and flows."""
+    return [
+        (fault_of_ring, [random_circuit(1), 0, [("path", 7, ()), ("path", 7, ((8, 0),))]]),
+        (netlist.Netlist, [["a"], [("q", 1, 2)], [((0, 1), 6)], [("y", 2)]]),
+        (netlist.signal_values, [new_netlist(), [1], [0]]),
+        (netlist.run_netlist, [new_netlist(), [[1], [0], [1]]]),
+        (netlist.signal_levels, [new_netlist()]),
+        (netlist.netlist_depth, [new_netlist()]),
+        (ways_or_cut, [random_circuit(1).as_net(), 18, [True] * 19, 2]),
+        (ways_or_cut, [random_circuit(1).as_net(), 18, [False] * 19, 2]),
+        (Mapping, [None, [1, 2], [3, 4], [[[1, 2]], []]]),
+        (map_circuit, [random_circuit(1), 3]),
+        (netlist_circuit, [new_netlist()]),
+        (places_of, [random_circuit(1)]),
+        (with_stuck, [random_circuit(1), ("left", 3), 1]),
+        (with_stuck, [random_circuit(1), ("output", 0), 1]),
+        (first_difference, [random_circuit(1), random_circuit(2), random_course(1, 3, 9)]),
+        (CourseSet, [[[[0, 1]], [[1, 1], [0, 1]]], [(("left", 0), 0, 0, 0)], [(("left", 0), 1, None)]]),
+        (found, [random_circuit(1, and_count=5)]),
+        (removed, [random_circuit(1, and_count=5)]),
+        (Flow, [random_circuit(1)]),
+        (run_flow, [random_circuit(1), []]),
+        (run_flow, [random_circuit(1), ["hash", "retime", "hidden"]]),
     ]
 
 
@@ -174,6 +224,11 @@ class CopiesTest(unittest.TestCase):
             (retime, [random_circuit(1), [0] * 11]),
             (check_labels, [random_circuit(1), [0] * 11]),
             (depth_under, [random_circuit(1), [0] * 12 + [-1]]),
+            (netlist.Netlist, [["a"], [("q", 1, 2)], [((0, 1), 16)], [("y", 2)]]),
+            (netlist.run_netlist, [new_netlist(), [[1], [2], [1]]]),
+            (map_circuit, [random_circuit(1), 7]),
+            (first_difference, [random_circuit(1), random_circuit(2), [[0, 0, 1], [0, 1]]]),
+            (run_flow, [random_circuit(1), ["hash", "no"]]),
         ]
         for function, arguments in failing:
             before = plain(arguments)

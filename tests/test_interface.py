@@ -62,6 +62,30 @@ INTERFACE = {
     "retime.search": {"labels_for": "circuit depth", "least_depth": "circuit"},
     "retime.weights": {
         "pin_weights": "circuit", "check_labels": "circuit labels", "depth_under": "circuit labels"},
+    "judge.ring": {"fault_of_ring": "circuit depth ring"},
+    "mapping.netlist": {
+        "Netlist": ("inputs registers tables outputs", {"__eq__": "other"}, ""),
+        "signal_values": "netlist state row", "run_netlist": "netlist course", "signal_levels": "netlist",
+        "netlist_depth": "netlist"},
+    "mapping.flow": {"ways_or_cut": "net node limit size"},
+    "mapping.covers": {
+        "Mapping": ("netlist literals labels ways", {}, ""), "map_circuit": "circuit size",
+        "netlist_circuit": "netlist"},
+    "stuck.places": {
+        "places_of": "circuit", "with_stuck": "circuit place value", "first_difference": "circuit other course"},
+    "stuck.finding": {"CourseSet": ("courses found hidden", {}, ""), "finding_courses": "circuit most"},
+    "stuck.hidden": {"remove_hidden": "circuit most"},
+    "flow.flow": {
+        "Flow": ("circuit", {"__iter__": "", "apply": "word most", "fault": ""}, "last_circuit"),
+        "run_flow": "circuit script most"},
+}
+# The arguments that are passed by keyword, with their default values.
+BY_KEYWORD = {
+    ("compare.compare", "compare"): inspect.Parameter.empty,
+    ("stuck.finding", "finding_courses"): inspect.Parameter.empty,
+    ("stuck.hidden", "remove_hidden"): inspect.Parameter.empty,
+    ("flow.flow", "run_flow"): 200,
+    ("flow.flow", "Flow", "apply"): 200,
 }
 
 
@@ -88,11 +112,12 @@ class InterfaceTest(unittest.TestCase):
                     self.check_class(vars(module)[name], *told)
 
     def test_arguments_by_keyword(self):
-        for file, name, keyword in (("compare.compare", "compare", "most"),):
-            function = vars(importlib.import_module("suregate." + file))[name]
-            parameter = inspect.signature(function).parameters[keyword]
-            self.assertEqual(
-                (inspect.Parameter.KEYWORD_ONLY, inspect.Parameter.empty), (parameter.kind, parameter.default))
+        for (file, *names), default in BY_KEYWORD.items():
+            value = importlib.import_module("suregate." + file)
+            for name in names:
+                value = vars(value)[name]
+            parameter = inspect.signature(value).parameters["most"]
+            self.assertEqual((inspect.Parameter.KEYWORD_ONLY, default), (parameter.kind, parameter.default))
 
     def check_class(self, value, arguments, methods, properties):
         self.assertTrue(inspect.isclass(value), value)

@@ -13,12 +13,12 @@ def compare(left, right, *, most):
     joined = Joined(left, right)
     states, lengths, course = explored(joined, most)
     if course is None:
-        return "alike", _certificate(joined.joint, states)
+        return "alike", certificate_of_states(joined.joint, states)
     steps = Steps(joined.joint, states, lengths)
     return "unlike", course, [steps.layer() for _ in course[1:]]
 
 
-def _certificate(net, states):
+def certificate_of_states(net, states):
     """Returns the certificate whose facts say that the joint state is one of these."""
     facts = blocking_clauses(states, net.first_latch, len(net.latches))
     return AlikeCertificate(facts, [], lines_for(net, facts, states), [])

@@ -41,8 +41,8 @@ def _check_circuit(circuit):
     net = circuit.as_net()
     end = 2 * net.node_count
     input_count = len(circuit.inputs)
-    new_names = _tell_new_names(circuit.inputs + [name for name, _, _ in circuit.latches])
-    new_outputs = _tell_new_names([name for name, _ in circuit.outputs])
+    new_names = tell_new_names(circuit.inputs + [name for name, _, _ in circuit.latches])
+    new_outputs = tell_new_names([name for name, _ in circuit.outputs])
     _check_part("inputs", new_names[:input_count])
     _check_part("latches", [
         new and start in (0, 1) and 0 <= literal < end
@@ -54,7 +54,7 @@ def _check_circuit(circuit):
         new and 0 <= literal < end for new, (_, literal) in zip(new_outputs, circuit.outputs)])
 
 
-def _tell_new_names(texts):
+def tell_new_names(texts):
     """Tells for each text whether it is a name, and none of the texts before it is the same."""
     told = {}
     answers = []

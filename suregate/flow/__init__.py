@@ -1,0 +1,1 @@
+"""Flows: steps applied to a circuit, one after the other."""

@@ -1,0 +1,1 @@
+"""Netlists of tables, and circuits mapped onto them."""
