@@ -22,3 +22,11 @@ def random_netlist(seed, most_tables=12):
     registers = [(f"q{k}", chance.randrange(2), chance.randrange(end)) for k in range(register_count)]
     outputs = [(f"o{k}", chance.randrange(end)) for k in range(chance.randrange(4) if end else 0)]
     return Netlist([f"i{k}" for k in range(input_count)], registers, tables, outputs)
+
+
+def random_delays(seed, netlist, most=9):
+    """Returns delays for the netlist; they are small, so that many of them are equal."""
+    chance = random.Random(seed)
+    return [
+        (chance.randrange(1, most + 1), tuple(chance.randrange(most + 1) for _ in pins))
+        for pins, _ in netlist.tables]

@@ -17,9 +17,12 @@ from suregate.graph.joining import Joined
 from suregate.graph.net import Net
 from suregate.judge.alike import fault_of_alike, fault_of_chain
 from suregate.judge.certificate import AlikeCertificate
+from suregate.judge.cover import fault_of_cover
 from suregate.judge.images import image_certificate
+from suregate.judge.longest import fault_of_longest
 from suregate.judge.ring import fault_of_ring
 from suregate.judge.unlike import fault_of_unlike
+from suregate.judge.ways import fault_of_ways
 from suregate.latches.latches import merge_latches, steady_literals
 from suregate.mapping import netlist
 from suregate.mapping.covers import Mapping, map_circuit, netlist_circuit
@@ -29,6 +32,10 @@ from suregate.retime.layers import retime
 from suregate.retime.search import labels_for, least_depth
 from suregate.retime.weights import check_labels, depth_under, pin_weights
 from suregate.runs import packed, plain as plain_runs
+from suregate.source import reading
+from suregate.source.compiling import compile_design
+from suregate.source.design import Design, read_design
+from suregate.source.writing import write_design
 from suregate.stuck.finding import CourseSet, finding_courses
 from suregate.stuck.hidden import remove_hidden
 from suregate.stuck.places import first_difference, places_of, with_stuck
@@ -39,6 +46,8 @@ from suregate.tables.cuts import cuts_of
 from suregate.text.certificates import read_certificate, write_certificate
 from suregate.text.circuits import read_circuit, write_circuit
 from suregate.text.flows import fault_of_text, read_chain, write_chain
+from suregate.times import arrivals
+from suregate.times.timed import TimedMachine, timed_run
 
 
 DELAY_OF_ONE = Circuit(["a"], [("q", 0, 2)], [], [("y", 4)])
@@ -156,7 +165,7 @@ def calls():
         (pin_weights, [random_circuit(1)]),
         (check_labels, [random_circuit(1), [0] * 12]),
         (depth_under, [random_circuit(1), [0] * 12]),
-    ] + calls_of_mapping_and_flows()
+    ] + calls_of_mapping_and_flows() + calls_of_times_and_designs()
 
 
 def calls_of_mapping_and_flows():
@@ -184,6 +193,40 @@ def calls_of_mapping_and_flows():
         (run_flow, [random_circuit(1), []]),
         (run_flow, [random_circuit(1), ["hash", "retime", "hidden"]]),
     ]
+
+
+def calls_of_times_and_designs():
+    """Returns calls of functions and classes for times and designs, and of the judges of netlists."""
+    mapping = map_circuit(random_circuit(1), 3)
+    text = write_design(new_design())
+    return [
+        (fault_of_cover, [random_circuit(1), mapping.netlist, mapping.literals]),
+        (fault_of_ways, [random_circuit(1), 3, mapping.labels, mapping.ways]),
+        (fault_of_ways, [random_circuit(1), 3, [2] * 12, [[[1, 2]]] * 12]),
+        (arrivals.check_delays, [new_netlist(), [(1, (2, 3)), (4, (5, 6, 7))]]),
+        (arrivals.arrivals, [new_netlist(), [(1, (2, 3)), (4, (5, 6, 7))]]),
+        (arrivals.longest_time, [new_netlist(), [(1, (2, 3)), (4, (5, 6, 7))]]),
+        (arrivals.least_period, [new_netlist(), [(1, (2, 3)), (4, (5, 6, 7))]]),
+        (arrivals.longest_trail, [new_netlist(), [(1, (2, 3)), (4, (5, 6, 7))]]),
+        (arrivals.slacks, [new_netlist(), [(1, (2, 3)), (4, (5, 6, 7))], 20]),
+        (TimedMachine, [new_netlist(), [(1, (2, 3)), (4, (5, 6, 7))], 20, [1, 2, 3]]),
+        (timed_run, [new_netlist(), [(1, (2, 3)), (4, (5, 6, 7))], 9, [[1], [0], [1]], [1, 2, 3]]),
+        (fault_of_longest, [new_netlist(), [(1, (2, 3)), (4, (5, 6, 7))], [0, 0, 4, 15], [(1, 0), (2, 1), (3, 0)]]),
+        (Design, [[("a", 4)], [("q", 2, 1)], [("x", 4, ("name", "a"))], [("name", "q")], [("y", 4, ("name", "x"))]]),
+        (read_design, [text]),
+        (write_design, [new_design()]),
+        (reading.bits_of_words, [[("a", 4), ("b", 2)], [9, 2]]),
+        (reading.words_of_bits, [[("a", 2), ("b", 1)], [1, 0, 1]]),
+        (reading.run_design, [new_design(), [[3], [9], [15]]]),
+        (compile_design, [new_design()]),
+    ]
+
+
+def new_design():
+    """Returns a design."""
+    return Design(
+        [("a", 4)], [("q", 4, 1)], [("x", 4, ("+", ("name", "a"), ("name", "q")))], [("name", "x")],
+        [("y", 4, ("not", ("name", "x"))), ("z", 2, ("pick", ("name", "q"), 2, 1))])
 
 
 class CopiesTest(unittest.TestCase):
@@ -229,6 +272,10 @@ class CopiesTest(unittest.TestCase):
             (map_circuit, [random_circuit(1), 7]),
             (first_difference, [random_circuit(1), random_circuit(2), [[0, 0, 1], [0, 1]]]),
             (run_flow, [random_circuit(1), ["hash", "no"]]),
+            (arrivals.slacks, [new_netlist(), [(1, (2, 3)), (4, (5, 6, 7))], 0]),
+            (arrivals.arrivals, [new_netlist(), [(1, (2, 3)), (4, (5, 6))]]),
+            (timed_run, [new_netlist(), [(1, (2, 3)), (4, (5, 6, 7))], 9, [[1], [2]], [1, 2, 3]]),
+            (reading.run_design, [new_design(), [[3], [16]]]),
         ]
         for function, arguments in failing:
             before = plain(arguments)

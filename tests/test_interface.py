@@ -78,6 +78,21 @@ INTERFACE = {
     "flow.flow": {
         "Flow": ("circuit", {"__iter__": "", "apply": "word most", "fault": ""}, "last_circuit"),
         "run_flow": "circuit script most"},
+    "judge.cover": {"fault_of_cover": "circuit netlist literals"},
+    "judge.ways": {"fault_of_ways": "circuit size labels ways"},
+    "times.arrivals": {
+        "check_delays": "netlist delays", "arrivals": "netlist delays", "longest_time": "netlist delays",
+        "least_period": "netlist delays", "longest_trail": "netlist delays", "slacks": "netlist delays period"},
+    "times.timed": {
+        "TimedMachine": ("netlist delays period choices", {"cycle": "row", "signals": ""}, ""),
+        "timed_run": "netlist delays period course choices"},
+    "judge.longest": {"fault_of_longest": "netlist delays entries trail"},
+    "source.design": {
+        "Design": ("inputs registers lets nexts outputs", {"__eq__": "other"}, ""), "read_design": "text"},
+    "source.writing": {"write_design": "design"},
+    "source.reading": {
+        "bits_of_words": "ports words", "words_of_bits": "ports bits", "run_design": "design course"},
+    "source.compiling": {"compile_design": "design"},
 }
 # The arguments that are passed by keyword, with their default values.
 BY_KEYWORD = {

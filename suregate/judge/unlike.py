@@ -4,7 +4,7 @@ from suregate.clauses.units import Units
 from suregate.errors import UnlikeInterfaces
 from suregate.frames.frames import frame_clauses, in_frame, link_clauses, same_clauses, start_clauses
 from suregate.graph.joining import Joined
-from suregate.runs.plain import cycles
+from suregate.runs.plain import cycles, is_row
 
 
 def fault_of_unlike(left, right, course, layers):
@@ -26,8 +26,7 @@ def fault_of_unlike(left, right, course, layers):
 def _fault_of_course(input_count, course):
     """Returns the fault of the first invalid row, or None."""
     for index, row in enumerate(course):
-        is_row = isinstance(row, list) and len(row) == input_count
-        if not is_row or not all([bit in (0, 1) for bit in row]):
+        if not isinstance(row, list) or not is_row(input_count, row):
             return "course", index
     if not course:
         return "course", 0

@@ -59,7 +59,10 @@ def state_after(circuit, course):
 def check_course(input_count, course):
     """Raises InvalidCourse for the first row that is surplus or is not one bit for each input."""
     for index, row in enumerate(course):
-        if index >= LONGEST_COURSE or len(row) != input_count:
+        if index >= LONGEST_COURSE or not is_row(input_count, row):
             raise InvalidCourse(index)
-        if not all([bit in (0, 1) for bit in row]):
-            raise InvalidCourse(index)
+
+
+def is_row(input_count, row):
+    """Tells whether these are one bit for each input."""
+    return len(row) == input_count and all([bit in (0, 1) for bit in row])

@@ -1,0 +1,1 @@
+"""Designs of words: a small language for circuits."""

@@ -1,0 +1,1 @@
+"""Times: arrivals, slacks, and netlists that respond late."""
