@@ -37,7 +37,9 @@ def with_stuck(circuit, place, value):
 def first_difference(circuit, other, course):
     """Returns the first cycle of the course in which the outputs of the two circuits differ, or None."""
     check_course(len(circuit.inputs), course)
-    for cycle, (one, two) in enumerate(zip(cycles(circuit, course), cycles(other, course))):
-        if one[0] != two[0]:
+    circuit_outputs = [outputs for outputs, _ in cycles(circuit, course)]
+    other_outputs = [outputs for outputs, _ in cycles(other, course)]
+    for cycle, (one, two) in enumerate(zip(circuit_outputs, other_outputs)):
+        if one != two:
             return cycle
     return None
