@@ -39,6 +39,11 @@ def rounds(count, shown):
     one = Circuit(
         ["go"], [(f"p{place}", int(place == 0), literal) for place, literal in enumerate(nexts)],
         builder.pairs, [("y", places[shown])])
+    return one, binary_rounds(count, shown)
+
+
+def binary_rounds(count, shown):
+    """Returns the second one of these circuits."""
     width = (count - 1).bit_length()
     builder = Builder(1 + width)
     bits = [4 + 2 * place for place in range(width)]
@@ -56,8 +61,8 @@ def rounds(count, shown):
         nexts.append(builder.choose(last, builder.both(bit, 3), builder.unlike(bit, carry)))
         carry = builder.both(carry, bit)
     hit = is_at(shown)
-    other = Circuit(["go"], [(f"c{place}", 0, literal) for place, literal in enumerate(nexts)], builder.pairs, [("y", hit)])
-    return one, other
+    return Circuit(
+        ["go"], [(f"c{place}", 0, literal) for place, literal in enumerate(nexts)], builder.pairs, [("y", hit)])
 
 
 def delay(length, start=0, mark=0):

@@ -152,7 +152,8 @@ class StatementsTest(ReadTest):
                 "let x = a[b]", "let x = a[1:b]", "let x = a[1:0:0]", "let x = a ? b", "let x = a ? b :", "let x = a : b",
                 "let x = ? a : b", "let x = a +", "let x = + a", "let x = a * * a", "let x = a ~ a", "let x = ~", "let x = -",
                 "let x = a ~", "let x = a , b", "let x = [1]", "let x = a b", "a = b", "= a", "4", "next = a", "next a",
-                "output = a", "output y", "output y a", "(", "let x = a]", "let x = a}", "let x = (a}", "let x = {a)"):
+                "output = a", "lets x = 4'1", "nexts q = 4'1", "outputs y = 4'1", "inputs x = 4'1", "a x = 4'1",
+                "output y", "output y a", "(", "let x = a]", "let x = a}", "let x = (a}", "let x = {a)"):
             self.check_fault(1, "word", line)
             self.check_fault(3, "word", "\n\n" + line + "\ninput a 4")
 
@@ -341,6 +342,15 @@ class ExpressionsTest(ReadTest):
             self.check_expression_fault("word", "(" * 12 + opening * 12 + "+")
             self.check_expression_fault("limit", opening * 12 + "(" * 13 + "+")
             self.check_expression_fault("word", "(" * 24 + "a[+")
+
+    def test_parts_that_are_closed_again(self):
+        # In braces, many parts are opened and closed one after the other; then as many as before can be open.
+        for part, count in (("(t)", 15), ("{t}", 15), ("~t", 15), ("-t", 15), ("t?t:t", 15), ("(t?{~t}:-t)", 5)):
+            many = "{" + ",".join([part] * count) + "}[0]"
+            self.assertEqual("pick", expression_of(many)[0])
+            for opening in ("(", "{", "~", "-", "t?t:", "t?"):
+                self.check_expression_fault("word", f"{many} & " + opening * 24 + "+")
+                self.check_expression_fault("limit", f"{many} & " + opening * 25 + "+")
 
     def test_open_parts_and_wrong_words(self):
         # What is met first is told; but all tokens are found before.

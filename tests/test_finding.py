@@ -26,12 +26,15 @@ def stuck_places(circuit):
     return [(place, value, with_stuck(circuit, place, value)) for place in places_of(circuit) for value in (0, 1)]
 
 
-def slow_courses(circuit):
-    """Returns the courses of [97] and the hidden stuck places, one step after the other."""
+def slow_courses(circuit, most=1000):
+    """Returns all courses of [97], those that stay, and the hidden stuck places; None for too many states."""
     courses, hidden = [], []
     for place, value, stuck in stuck_places(circuit):
         if all(first_difference(circuit, stuck, course) is None for course in courses):
-            _, course = slow_explore(circuit, stuck, 1000)
+            explored = slow_explore(circuit, stuck, most)
+            if explored is None:
+                return None
+            _, course = explored
             if course is None:
                 hidden.append((place, value))
             else:
@@ -80,6 +83,42 @@ class FindingTest(SuregateTest):
             hidden += bool(told.hidden)
             several += len(told.courses) > 1
         self.assertGreater(min(dropped, hidden, several), 8)
+
+    def test_courses_that_make_others_needless(self):
+        dropped = 0
+        for seed in range(16):
+            circuit = tree_circuit(seed, 5, seed % 3, 20, 3)
+            tried, courses, hidden = slow_courses(circuit)
+            told = found(circuit)
+            self.assertEqual(courses, told.courses)
+            self.assertEqual(hidden, [(place, value) for place, value, _ in told.hidden])
+            dropped += len(tried) - len(courses)
+        self.assertGreater(dropped, 8)
+
+    def test_two_courses_of_which_only_one_can_be_left_out(self):
+        # Some place is found by two courses alone, each of which could be left out if the other one stays.
+        for circuit in (
+                tree_circuit(28, 3, 0, 8, 3), tree_circuit(39, 4, 0, 20, 3), random_circuit(29, 3, 2, 6, 3),
+                random_circuit(37, 4, 0, 10, 3)):
+            tried, courses, _ = slow_courses(circuit)
+            self.assertEqual(courses, found(circuit).courses)
+            self.assertLess(len(courses), len(tried))
+
+    def test_most_states(self):
+        # What is found by a course need not be compared; so there can be fewer states than some comparison meets.
+        raised = shown = 0
+        circuits = [counter(2, 3), delay(3)] + [random_circuit(seed, 2, 3, 9, 2) for seed in range(30)]
+        for circuit in circuits:
+            for most in (1, 2, 3, 4, 5, 6, 8, 11, 16):
+                expected = slow_courses(circuit, most)
+                if expected is None:
+                    with self.assertRaises(TooManyStates):
+                        found(circuit, most)
+                    raised += 1
+                else:
+                    self.assertEqual(expected[1], found(circuit, most).courses)
+                    shown += 1
+        self.assertGreater(min(raised, shown), 50)
 
     def test_certificates_are_those_of_compare(self):
         for circuit in (CIRCUIT, random_circuit(3, 2, 2, 7, 2)):

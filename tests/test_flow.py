@@ -3,7 +3,7 @@
 import unittest
 
 from helpers import SuregateTest, edge_circuits, plain, random_circuit, random_course, tree_circuit
-from joint_circuits import counter
+from joint_circuits import binary_rounds, counter
 
 from suregate.errors import InvalidCircuit, InvalidStep, TooManyStates
 from suregate.flow.flow import Flow, run_flow
@@ -122,6 +122,21 @@ class FlowTest(SuregateTest):
         flow.apply("hidden", most=64)
         self.assertEqual(4, len(flow.circuits))
         self.check_chain(flow)
+
+    def test_exactly_200_states(self):
+        # Nothing of these circuits is needed, so the joint states are just their own; 200 of them, and 201.
+        def counts(many):
+            circuit = binary_rounds(many, 0)
+            return Circuit(circuit.inputs, circuit.latches, circuit.ands, [("y", 0)])
+
+        flow = Flow(counts(200))
+        flow.apply("hidden")
+        self.check_chain(flow)
+        self.check_chain(run_flow(counts(200), ["hidden"]))
+        with self.assertRaises(TooManyStates):
+            Flow(counts(201)).apply("hidden")
+        with self.assertRaises(TooManyStates):
+            run_flow(counts(201), ["hidden"])
 
     def test_most_is_200_by_default(self):
         # Two counters of the same width have as many joint states as one: 256 and 128 here.

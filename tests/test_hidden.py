@@ -12,7 +12,7 @@ from suregate.graph.circuit import Circuit
 from suregate.passes.structure import hash_circuit, needed_nodes, trim
 from suregate.stuck.finding import finding_courses
 from suregate.stuck.hidden import remove_hidden
-from suregate.stuck.places import places_of, with_stuck
+from suregate.stuck.places import first_difference, places_of, with_stuck
 
 # A latch that can never become 1, and ands that hang on it.
 NEVER = Circuit(
@@ -25,6 +25,24 @@ def removed(circuit, most=1000):
 
 def cleaned(circuit):
     return trim(hash_circuit(circuit)[0])[0]
+
+
+def slow_removed(circuit, most):
+    """Returns the circuit without hidden places as [98] tells it, with courses; None for too many states."""
+    present, courses = cleaned(circuit), []
+    places = [(place, value) for place in places_of(present) for value in (0, 1)]
+    while places:
+        stuck = with_stuck(present, *places.pop(0))
+        if all(first_difference(present, stuck, course) is None for course in courses):
+            explored = slow_explore(present, stuck, most)
+            if explored is None:
+                return None
+            if explored[1] is None:
+                present = cleaned(stuck)
+                places = [(place, value) for place in places_of(present) for value in (0, 1)]
+            else:
+                courses.append(explored[1])
+    return None if slow_explore(circuit, present, most) is None else present
 
 
 def slow_rounds(circuit):
@@ -83,6 +101,22 @@ class HiddenTest(SuregateTest):
                 removed(circuit, most)
             self.assertEqual({}, vars(caught.exception))
             self.assertEqual(before, plain(circuit))
+
+    def test_most_states(self):
+        # What is found by a course need not be compared; so there can be fewer states than some comparison meets.
+        raised = shown = 0
+        for seed in range(60):
+            circuit = random_circuit(seed, 2, 3, 10, 2)
+            for most in (1, 2, 3, 4, 5, 6, 8, 11, 16):
+                expected = slow_removed(circuit, most)
+                if expected is None:
+                    with self.assertRaises(TooManyStates):
+                        removed(circuit, most)
+                    raised += 1
+                else:
+                    self.assertEqual(expected, removed(circuit, most)[0])
+                    shown += 1
+        self.assertGreater(min(raised, shown), 50)
 
     def test_most_is_passed_by_keyword(self):
         with self.assertRaises(TypeError):

@@ -84,6 +84,20 @@ class WaysOrCutTest(SuregateTest):
             for allowed in ({1, 2, 3}, {1, 2, 3, 4, 5}, {1, 2, 3, 4, 5, 6, 7}, {4, 5, 3}, {4, 5, 6, 7}):
                 self.check(net, 8, allowed, size)
 
+    def test_way_that_is_undone_over_several_nodes(self):
+        # The first way goes over 1, 3 and 7; for the second one over 1 and 11, it must come over 6 and 7 instead.
+        net = Net(2, [], [(2, 2), (4, 4), (8, 8), (10, 10), (6, 12), (2, 2), (16, 16), (18, 18), (20, 20), (14, 22)])
+        self.assertEqual("ways", self.check(net, 12, set(range(1, 12)), 1))
+        self.assertEqual("cut", self.check(net, 12, set(range(1, 12)), 2))
+
+    def test_way_that_leaves_a_step_to_others(self):
+        # Two ways step from 4 to 7, to the allowed 8 and 9; for the third one over 14, one of them comes over 6 instead.
+        net = Net(3, [], [
+            (2, 4), (6, 6), (10, 10), (8, 12), (14, 14), (14, 14), (16, 18), (8, 8), (22, 22), (24, 24), (26, 26),
+            (20, 28)])
+        self.assertEqual("ways", self.check(net, 15, {1, 2, 3, 8, 9}, 2))
+        self.assertEqual("cut", self.check(net, 15, {1, 2, 3, 8, 9}, 3))
+
     def test_one_way_several_times(self):
         net = Net(1, [], [(2, 2), (4, 5), (6, 6)])
         self.assertEqual(("ways", [[1, 2, 3, 4]] * 4), ways_or_cut(net, 4, [False] * 5, 3))

@@ -46,6 +46,11 @@ class PlacesTest(SuregateTest):
             places_of(CIRCUIT))
         self.assertEqual(before, plain(CIRCUIT))
 
+    def test_smallest_literals(self):
+        circuit = Circuit(["a"], [("p", 0, 2), ("q", 0, 1)], [(2, 1), (0, 2)], [("x", 2), ("y", 1), ("z", 3)])
+        self.assertEqual(
+            [("left", 0), ("right", 1), ("next", 0), ("output", 0), ("output", 2)], places_of(circuit))
+
     def test_without_places(self):
         for circuit in (Circuit([], [], [], []), Circuit(["a"], [("q", 0, 1)], [(0, 1)], [("y", 0)])):
             self.assertEqual([], places_of(circuit))

@@ -73,6 +73,13 @@ class RunTest(SuregateTest):
             self.check_words("a < b", int(one < other), one, other)
             self.check_words("a <= b", int(one <= other), one, other)
 
+    def test_comparisons_are_one_bit_wide(self):
+        # What the complement of each comparison of 5 and 3 is.
+        for sign, expected in (("==", 1), ("!=", 0), ("<", 1), ("<=", 1)):
+            self.check_words(f"~(a {sign} b)", expected, 5, 3)
+            self.check_words(f"-(a {sign} b)", 1 - expected, 5, 3)
+            self.check_words(f"{{a {sign} b, a {sign} b, 1'1}}", 7 - 6 * expected, 5, 3)
+
     def test_picks_braces_and_choices(self):
         self.check_words("a[3:1]", 0b110, 0b1101, 0)
         self.check_words("a[0]", 1, 0b1101, 0)

@@ -100,6 +100,12 @@ class WaysTest(SuregateTest):
         for way in ([5, 6], [0, 6], [5, 6, 6], [6, 6], [3, 6, 7], [4, 7], [3, 3, 6], [1, 5], [-1, 6], [10, 6]):
             self.check(1, LABELS, self.with_ways(1, WAYS[1][:2] + [way]))
 
+    def test_ways_that_start_at_the_constant(self):
+        # The ands 3 and 4 read the constant, which begins no way.
+        circuit = Circuit(["a", "b"], [], [(0, 2), (6, 4), (1, 8)], [])
+        self.check(2, [1, 1, 2], [[], [], [[1, 3, 4, 5], [2, 4, 5], [0, 5]]], circuit=circuit)
+        self.check(2, [1, 1, 2], [[], [], [[0, 3, 4, 5], [2, 4, 5], [1, 3, 4, 5]]], circuit=circuit)
+
     def test_nodes_that_do_not_follow(self):
         for way in ([1, 6], [4, 6], [3, 5, 6], [1, 5, 5, 6], [1, 2, 6], [1, 6, 6], [3, 0, 6]):
             self.check(1, LABELS, self.with_ways(1, WAYS[1][:2] + [way]))

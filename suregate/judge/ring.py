@@ -13,7 +13,8 @@ def fault_of_ring(circuit, depth, ring):
         before = links[index - 1]
         if link is None or before is None or before[1] != link[0]:
             return index
-    if not links or sum([bound for _, _, bound in links]) >= 0:
+    # The sum for the empty ring is 0.
+    if sum([bound for _, _, bound in links]) >= 0:
         return len(links)
     return None
 
