@@ -222,6 +222,28 @@ class LanguageTest(unittest.TestCase):
                 if isinstance(part.ctx, ast.Store) and isinstance(part.value, ast.Name) and part.value.id == "self"}
             self.demand(not functions & attributes, "L18", place)
 
+    def test_names_of_methods_and_attributes(self):
+        methods, properties, attributes, generators, functions = set(), [], set(), set(), []
+        for _, node in self.each(ast.FunctionDef):
+            functions.append(node.name)
+            if nodes_of(node, ast.Yield, ast.YieldFrom):
+                generators.add(node.name)
+        for _, node in self.each(ast.ClassDef):
+            for part in node.body:
+                if isinstance(part, ast.FunctionDef):
+                    decorated = "property" in [getattr(told, "id", "") for told in part.decorator_list]
+                    (properties.append if decorated else methods.add)(part.name)
+            attributes |= {part.attr for part in nodes_of(node, ast.Attribute) if isinstance(part.ctx, ast.Store)}
+        self.demand(not methods & attributes, "L18", sorted(methods & attributes))
+        self.demand(not set(properties) & (attributes | methods), "L5", properties)
+        plain = {name for kind in (str, list, dict, int, set, bytes) for name in dir(kind) if not name.startswith("__")}
+        taken = (methods | attributes | set(properties)) & plain - {"index", "count"}
+        self.demand(not taken, "L26", sorted(taken))
+        for name in generators:
+            self.demand(functions.count(name) == 1, "L23", name)
+        read = {node.attr for _, node in self.each(ast.Attribute) if isinstance(node.ctx, ast.Load)}
+        self.demand(read <= attributes | methods | set(properties) | METHODS, "L18", sorted(read))
+
     def test_errors(self):
         for place, node in self.each(ast.Raise):
             made = isinstance(node.exc, ast.Call) and isinstance(node.exc.func, ast.Name)
