@@ -45,10 +45,50 @@ STATEMENTS = (
     ast.Assert, ast.Delete, ast.Nonlocal, ast.Match, ast.With, ast.Try, ast.Expr, ast.FunctionDef, ast.ClassDef,
     ast.ImportFrom, ast.AnnAssign)
 TAKES_LIST = ("any", "all", "min", "max", "sum", "sorted")
+GIVES_NEW = ("list", "tuple", "sorted", "range", "len", "min", "max", "sum")
+CHANGING = set("append add clear discard extend insert pop remove reverse setdefault sort update".split())
+HEAP_CALLS = ("heappush", "heappop", "heapify", "heapreplace", "heappushpop")
 
 
 def nodes_of(tree, *kinds):
     return [node for node in ast.walk(tree) if isinstance(node, kinds)]
+
+
+def names_walked(head):
+    """Returns the names through which a loop's head goes, except where it makes a new list or a number of them."""
+    called = getattr(head.func, "id", "") if isinstance(head, ast.Call) else ""
+    sliced = isinstance(head, ast.Subscript) and isinstance(head.slice, ast.Slice)
+    if called in GIVES_NEW or sliced or isinstance(head, (ast.BinOp, ast.keyword, ast.ListComp)):
+        return set()
+    if isinstance(head, ast.Name):
+        return {head.id}
+    return {name for part in ast.iter_child_nodes(head) for name in names_walked(part)}
+
+
+def name_changed(node):
+    """Returns the name through which a node changes an attribute or an item, or an empty one."""
+    if isinstance(node, ast.Call) and isinstance(node.func, ast.Attribute):
+        place = node.func.value if node.func.attr in CHANGING else None
+    elif isinstance(node, ast.Call) and getattr(node.func, "id", "") in HEAP_CALLS:
+        place = node.args[0]
+    elif isinstance(node, (ast.Attribute, ast.Subscript)) and not isinstance(node.ctx, ast.Load):
+        place = node.value
+    else:
+        place = None
+    while isinstance(place, (ast.Attribute, ast.Subscript, ast.Call)):
+        place = place.func if isinstance(place, ast.Call) else place.value
+    return place.id if isinstance(place, ast.Name) else ""
+
+
+def changed_while_walked(tree):
+    """Returns the lines that change something through a name through which the head of a loop around them goes."""
+    lines = set()
+    for loop in nodes_of(tree, ast.For, ast.ListComp, ast.SetComp, ast.DictComp, ast.GeneratorExp):
+        heads = [loop.iter] if isinstance(loop, ast.For) else [part.iter for part in loop.generators]
+        walked = {name for head in heads for name in names_walked(head)}
+        rows = loop.body if isinstance(loop, ast.For) else [loop]
+        lines |= {node.lineno for row in rows for node in ast.walk(row) if name_changed(node) in walked}
+    return sorted(lines)
 
 
 class LanguageTest(unittest.TestCase):
@@ -263,6 +303,30 @@ class LanguageTest(unittest.TestCase):
         for place, node in self.each(ast.For, ast.comprehension):
             self.demand(not isinstance(node.iter, (ast.Set, ast.SetComp)), "L24", place)
             self.demand(getattr(getattr(node.iter, "func", None), "id", "") != "set", "L24", place)
+
+    def test_what_a_loop_walks_is_not_changed_in_it(self):
+        # Wider than L23, which bars only changes of the very list: what a method of an object returns may be a part
+        # of it, so nothing of an object is changed while a loop goes through it to what it walks.
+        for path, tree in self.trees.items():
+            lines = changed_while_walked(tree)
+            self.demand(not lines, "L5, L23", f"{path.relative_to(ROOT)}: {lines}")
+
+    def test_what_counts_as_changed_while_walked(self):
+        barred = (
+            "for x in self.near(k): self.rows[x][k] = True", "for x in self.near(k): self.rows[x].pop(k, None)",
+            "for x in reversed(self.near(k)): self.rows[x] = k",
+            "for x, y in enumerate(self.net.ands): self.rows[x] = y",
+            "for x in self.rows: self.rows.append(x)", "for x in xs: del xs[x]", "for x in d.items(): d[x] = 1",
+            "for x in a if k else b: b.clear()", "for x in told(d): d[x] = 1", "for x in self.q: heappush(self.q, x)",
+            "xs = [self.rows.pop() for x in self.rows]", "for x in self.near(k):\n for y in list(xs): self.rows[y] = x")
+        for text in barred:
+            self.assertTrue(changed_while_walked(ast.parse(text)), text)
+        allowed = (
+            "for x in list(self.near(k)): self.rows[x][k] = True", "for x in self.rows[k:]: self.rows.append(x)",
+            "for x, y in enumerate(list(self.net.ands), start=self.first): self.rows[x] = y",
+            "for x in reversed(list(self.near(k))): self.rows[x] = k", "for x in self.near(k): rows[x] = self.of(x)")
+        for text in allowed:
+            self.assertFalse(changed_while_walked(ast.parse(text)), text)
 
 
 if __name__ == "__main__":

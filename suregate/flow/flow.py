@@ -36,7 +36,7 @@ class Flow:
         """Applies one step to the last circuit; changes the object."""
         if word not in STEPS:
             raise InvalidStep(0)
-        for circuit, certificate in _step_results(word, self.last_circuit, most):
+        for circuit, certificate in list(_step_results(word, self.last_circuit, most)):
             self.circuits.append(circuit)
             self.certificates.append(certificate)
 

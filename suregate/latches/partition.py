@@ -70,7 +70,7 @@ class Partition:
             for node in group[1:]:
                 clauses.extend(same_clauses(2 * group[0] ^ self._marks[group[0]], 2 * node ^ self._marks[node]))
         likeness = Likeness(self._net, clauses)
-        for group in self.groups:
+        for group in list(self.groups):
             for node in group[1:]:
                 model = likeness.parting(self._nexts[group[0]], self._nexts[node])
                 if model is not None:

@@ -60,7 +60,7 @@ class SharedWays:
                 self._lead_along(side)
                 return True
             # The first one is taken out first.
-            for further in reversed(self._sides_before(side)):
+            for further in reversed(list(self._sides_before(side))):
                 if further not in self._origins:
                     self._origins[further] = side
                     waiting.append(further)

@@ -23,12 +23,12 @@ class Settling:
         self._images = leaf_images(circuit)
         # For each node the ands whose images are built of its image.
         self._readers = [{} for _ in range(self._net.node_count)]
-        for node, pair in enumerate(self._net.ands, start=self._net.first_and):
+        for node, pair in enumerate(list(self._net.ands), start=self._net.first_and):
             self._images.append(image_with(self._shapes, self._images, pair, None))
-            for source in self._sources_of(node):
+            for source in list(self._sources_of(node)):
                 self._readers[source][node] = True
         self._held = self._needed_images()
-        for literal in self._held:
+        for literal in list(self._held):
             self._shapes.hold(literal)
 
     def choice(self):
@@ -86,14 +86,14 @@ class Settling:
 
     def _set_cone(self, node, cone):
         """Notes the cone for the and, or None, and what it reads."""
-        for source in self._sources_of(node):
+        for source in list(self._sources_of(node)):
             # The two literals of an and may belong to one node.
             self._readers[source].pop(node, None)
         if cone is None:
             self._cones.pop(node, None)
         else:
             self._cones[node] = cone
-        for source in self._sources_of(node):
+        for source in list(self._sources_of(node)):
             self._readers[source][node] = True
 
     def _sources_of(self, node):

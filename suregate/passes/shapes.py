@@ -50,10 +50,10 @@ class Shapes(Builder):
         self.hold(new)
         count = self.live
         if uses > 0 and self._uses[node] == uses:
-            for literal in self.pair_of(old):
+            for literal in list(self.pair_of(old)):
                 self.release(literal)
             count = self.live - 1
-            for literal in self.pair_of(old):
+            for literal in list(self.pair_of(old)):
                 self.hold(literal)
         self.release(new)
         return count

@@ -24,7 +24,7 @@ class Heights:
         changed = False
         # Feeders without a latch between come later in this order, so that rounds are few.
         for index in reversed(range(len(self._pins))):
-            for side, (feeder, weight) in enumerate(self._pins[index]):
+            for side, (feeder, weight) in enumerate(list(self._pins[index])):
                 source = feeder - self._first_and
                 height = self._heights[index] + 1 - weight * self._depth
                 if source >= 0 and height > self._heights[source]:

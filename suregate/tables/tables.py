@@ -53,7 +53,7 @@ def known_tables(leaves):
 
 def add_cone(net, node, tables, full):
     """Adds to the tables that of the node and those of all ands on the way to it; raises InvalidCut."""
-    for place in _cone_of(net, node, tables):
+    for place in list(_cone_of(net, node, tables)):
         left, right = net.ands[place - net.first_and]
         tables[place] = table_of(tables, left, full) & table_of(tables, right, full)
 

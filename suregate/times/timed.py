@@ -72,7 +72,7 @@ class TimedMachine:
 
     def _stir(self, time, signal):
         """Lets the tables that read a signal wait, unless they do already."""
-        for reader, bound in self._readers[signal]:
+        for reader, bound in list(self._readers[signal]):
             if reader not in self._waiting:
                 self._waiting[reader] = True
                 heappush(self._queue, (time + self._next_delay(bound), reader))
